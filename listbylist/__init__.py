@@ -1,0 +1,1 @@
+"""Listbylist: lists that share things, sorted anew by many hands."""

@@ -250,6 +250,19 @@ def sortings(book):
     return sorted(lot for lot in lots(ties(book)) if not in_round(book, lot))
 
 
+def told_by(book, orders):
+    """What a tuple of orders of lists that hold all ties gives: a quarrel, a round, or a sorting."""
+    put = {}
+    for order in orders:
+        for x, y in combinations(order, 2):
+            put.setdefault((min(x, y), max(x, y)), set()).add(x > y)
+    quarrels = sorted(tie for tie, both in put.items() if len(both) > 1)
+    if quarrels:
+        return ("Quarrel", quarrels[0])
+    turned = tuple(sorted(tie for tie, both in put.items() if both == {True}))
+    return ("InRound",) if in_round(book, turned) else ("gives", turned)
+
+
 def is_book(value):
     if type(value) is not tuple or len(value) != 2:
         return False

@@ -1,0 +1,236 @@
+"""The rules of the language of the package that can be seen in its files, and the names of the interface."""
+import ast
+import builtins
+import importlib
+import inspect
+import os
+import unittest
+
+PLACE = os.path.join(os.path.dirname(os.path.dirname(os.path.abspath(__file__))), "listbylist")
+FILES = sorted(os.listdir(PLACE))
+
+INTERFACE = {
+    "kinds": ("is_integer(thing)", "is_number(thing)", "is_lot(size, thing)", "is_line(size, thing)"),
+    "bookkinds": ("is_book(thing)", "is_tie(book, thing)", "is_row(book, thing)"),
+    "bookchecker": ("lets_book(thing)",),
+    "books": (
+        "book_of(size, *lists)", "ties_of(book)", "is_tied(book, here, there)", "near_of(book, here)",
+        "between_of(book, tie)"),
+    "bookchanges": (
+        "kept_to(book, lot)", "with_list(book, things)", "without_list(book, listed)", "beside(book, other)",
+        "rebased(book, line)", "mirrored(book)"),
+    "fulllists": (
+        "full_lists(book)", "is_full(book, thing)", "full_with(book, lot)", "shared_by(book, place, other)"),
+    "taking": ("taking_of(book)", "ring_of(book)", "is_bare_ring(book, thing)"),
+    "listtrees": ("list_tree(book)", "lets_tree(book, thing)"),
+    "joints": (
+        "is_jointed(book)", "one_stretch(book, place, other)", "joint_of(book)", "lets_joint(book, thing)",
+        "own_hole(book)"),
+    "leasts": ("loop_of(book)", "has_least(book)", "lets_loop(book, thing)"),
+    "booktexts": ("book_line(book)", "read_book(text)"),
+    "sortkinds": ("is_sorting(book, thing)", "is_ties(book, thing)"),
+    "rounds": ("round_of(book, ties)", "lets_round(book, ties, thing)"),
+    "sortlines": ("sorting_of(book, line)", "fits_line(book, sorting, line)", "line_of(book, sorting)"),
+    "ways": ("leads(book, sorting, here, there)", "way_of(book, sorting, here, there)"),
+    "listorders": ("orders_of(book, sorting)", "own_orders(book, sorting)", "sorting_by(book, orders)"),
+    "opens": (
+        "open_ties(book, sorting)", "falls_of(book, sorting)", "rises_of(book, sorting)",
+        "bars_of(book, sorting, tie)"),
+    "exchanging": (
+        "exchanged(book, sorting, tie)", "put_first(book, sorting, here)", "put_last(book, sorting, here)"),
+    "stepping": (
+        "differing(book, sorting, other)", "steps_between(book, sorting, other)", "stepped(book, sorting, steps)",
+        "lets_steps(book, sorting, other, thing)"),
+    "alls": ("is_beneath(book, sorting, other)", "all_sortings(book)"),
+    "sortturns": (
+        "turned_over(book, sorting)", "restricted(book, sorting, lot)", "mirrored_sorting(book, sorting)",
+        "rebased_sorting(book, sorting, line)", "carried(book, sorting, other)"),
+    "sorttexts": ("sorting_line(book, sorting)", "read_sorting(book, text)"),
+    "closures": ("closure_of(book, ties)",),
+    "merging": ("least_common(book, sortings)", "greatest_common(book, sortings)"),
+    "whyrows": ("why_turned(book, sortings, tie)", "why_kept(book, sortings, tie)"),
+    "whychecker": ("lets_turned(book, sortings, tie, thing)", "lets_kept(book, sortings, tie, thing)"),
+    "listmerges": (
+        "list_order(book, place, sortings)", "list_orders(book, sortings)", "fits_lists(book, sortings)",
+        "merged_by_lists(book, sortings)", "own_merges(book, sortings)", "fits_own(book, sortings)"),
+}
+CLASSES = {
+    ("bookclasses", "Book"): (
+        "__init__(self, size, *lists)", "__len__(self)", "__eq__(self, other)", "__add__(self, other)",
+        "ties(self)", "full(self)", "jointed(self)", "kept(self, lot)", "grown(self, things)", "told(self)"),
+    ("sortclasses", "Sorting"): (
+        "__init__(self, book, line)", "__eq__(self, other)", "falls(self)", "rises(self)", "orders(self)",
+        "told(self)", "moved(self, tie)", "apart(self, other)", "beneath(self, other)"),
+}
+CALLED = (
+    "len range enumerate zip min max sum abs sorted reversed int str bool list tuple dict set isinstance repr any all"
+).split()
+METHODS = (
+    "append endswith extend index isascii isdigit items join setdefault split startswith count bit_length"
+).split()
+BARRED = (
+    "register mro elements open input law type typing enum Enum Flag Generic Protocol ABC NamedTuple TypedDict"
+).split()
+
+
+def text_of(name):
+    with open(os.path.join(PLACE, name), encoding="utf-8") as file:
+        return file.read()
+
+
+def tree_of(name):
+    return ast.parse(text_of(name))
+
+
+def functions_of(tree):
+    return [node for node in ast.walk(tree) if isinstance(node, ast.FunctionDef)]
+
+
+def bound_in(function):
+    """The parameters and local variables of a function."""
+    args = function.args
+    names = [arg.arg for arg in args.posonlyargs + args.args + args.kwonlyargs]
+    names += [arg.arg for arg in (args.vararg, args.kwarg) if arg]
+    return names + [
+        node.id for node in ast.walk(function) if isinstance(node, ast.Name) and isinstance(node.ctx, ast.Store)]
+
+
+class Interface(unittest.TestCase):
+    def same_head(self, owner, head):
+        name, rest = head.split("(", 1)
+        made = vars(owner)[name]
+        parameters = ", ".join(str(parameter) for parameter in inspect.signature(made).parameters.values())
+        self.assertEqual(parameters + ")", rest, head)
+        self.assertTrue(inspect.isfunction(made))
+        return made
+
+    def test_functions(self):
+        for file, heads in INTERFACE.items():
+            module = importlib.import_module("listbylist." + file)
+            for head in heads:
+                self.assertEqual(self.same_head(module, head).__module__, module.__name__)
+
+    def test_classes(self):
+        for (file, name), heads in CLASSES.items():
+            module = importlib.import_module("listbylist." + file)
+            made = vars(module)[name]
+            self.assertEqual((made.__module__, made.__bases__), (module.__name__, (object,)))
+            for head in heads:
+                self.same_head(made, head)
+
+    def test_generator(self):
+        alls = importlib.import_module("listbylist.alls")
+        self.assertTrue(inspect.isgeneratorfunction(alls.all_sortings))
+
+
+class Files(unittest.TestCase):
+    def test_files(self):
+        self.assertLessEqual(len(FILES), 100)
+        for name in FILES:
+            if name != "__pycache__":
+                self.assertRegex(name, r"\A(__init__|[a-z]+)\.py\Z")
+
+    def sources(self):
+        for name in FILES:
+            if name.endswith(".py"):
+                yield name, text_of(name), tree_of(name)
+
+    def test_characters_and_size(self):
+        for name, text, tree in self.sources():
+            lines = text.split("\n")
+            self.assertLessEqual(len(lines), 399, name)
+            self.assertLessEqual(max(map(len, lines)), 120, name)
+            self.assertTrue(all(" " <= letter <= "~" or letter == "\n" for letter in text), name)
+            for function in functions_of(tree):
+                self.assertLessEqual(function.end_lineno - function.lineno + 1, 40, function.name)
+
+    def test_module_level(self):
+        for name, _, tree in self.sources():
+            self.assertTrue(ast.get_docstring(tree), name)
+            bound = []
+            for node in tree.body[1:]:
+                self.assertIsInstance(node, (ast.ImportFrom, ast.FunctionDef, ast.ClassDef), name)
+                if isinstance(node, ast.ImportFrom):
+                    bound += [one.asname or one.name for one in node.names]
+                else:
+                    bound.append(node.name)
+            self.assertEqual(len(bound), len(set(bound)), name)
+
+    def test_imports(self):
+        needs = {}
+        for name, _, tree in self.sources():
+            needs[name[:-3]] = set()
+            used = {node.id for node in ast.walk(tree) if isinstance(node, ast.Name)}
+            for node in tree.body:
+                if not isinstance(node, ast.ImportFrom):
+                    continue
+                package, _, file = node.module.partition(".")
+                self.assertEqual((package, node.level), ("listbylist", 0), name)
+                needs[name[:-3]].add(file)
+                own = [one.name for one in tree_of(file + ".py").body if hasattr(one, "name")]
+                for one in node.names:
+                    self.assertIn(one.name, own, name)
+                    self.assertIsNone(one.asname)
+                    self.assertIn(one.name, used, name)
+        while needs:
+            free = [file for file, needed in needs.items() if not needed & set(needs)]
+            self.assertTrue(free, "these import from each other: " + " ".join(needs))
+            needs = {file: needed for file, needed in needs.items() if file not in free}
+
+    def test_names(self):
+        for name, _, tree in self.sources():
+            taken = set(dir(builtins)) | set(BARRED)
+            for node in tree.body:
+                if isinstance(node, ast.ImportFrom):
+                    taken |= {one.name for one in node.names}
+                elif isinstance(node, ast.ClassDef):
+                    taken.add(node.name)
+                elif isinstance(node, ast.FunctionDef):
+                    self.assertNotIn(node.name, taken, name)
+            for function in functions_of(tree):
+                self.assertFalse(taken & set(bound_in(function)), (name, function.name))
+
+    def test_nodes(self):
+        barred = (
+            ast.GeneratorExp, ast.Try, ast.Global, ast.Nonlocal, ast.With, ast.AsyncFunctionDef, ast.Await, ast.Set,
+            ast.SetComp, ast.AugAssign, ast.AnnAssign, ast.Lambda, ast.NamedExpr, ast.Delete, ast.Div, ast.Match,
+        )
+        for name, _, tree in self.sources():
+            for node in ast.walk(tree):
+                self.assertNotIsInstance(node, barred, (name, getattr(node, "lineno", None)))
+                if isinstance(node, (ast.FunctionDef, ast.ClassDef)):
+                    self.assertEqual(node.decorator_list, [], name)
+                if isinstance(node, ast.Constant):
+                    self.assertIsInstance(node.value, (int, str, type(None)), name)
+                    self.assertNotIn("%", str(node.value), name)
+                if isinstance(node, ast.Compare):
+                    for sign, right in zip(node.ops, node.comparators):
+                        if isinstance(sign, (ast.Is, ast.IsNot)):
+                            self.assertIsInstance(right, ast.Constant, name)
+
+    def test_calls(self):
+        for name, _, tree in self.sources():
+            own = {node.name for node in ast.walk(tree) if isinstance(node, (ast.FunctionDef, ast.ClassDef))}
+            own |= {one.name for node in tree.body if isinstance(node, ast.ImportFrom) for one in node.names}
+            for node in ast.walk(tree):
+                if isinstance(node, ast.Name) and isinstance(node.ctx, ast.Load) and hasattr(builtins, node.id):
+                    self.assertIn(node.id, CALLED + ["ValueError"], name)
+                if not isinstance(node, ast.Call):
+                    continue
+                self.assertEqual(node.keywords, [], name)
+                if isinstance(node.func, ast.Attribute):
+                    self.assertIn(node.func.attr, METHODS, (name, node.lineno))
+                else:
+                    self.assertIn(node.func.id, own | set(CALLED), (name, node.lineno))
+                    if node.func.id == "set":
+                        self.assertTrue(self.measured(tree, node), (name, node.lineno))
+
+    def measured(self, tree, call):
+        """True if the set is directly sorted or measured."""
+        return any(
+            isinstance(node, ast.Call) and isinstance(node.func, ast.Name) and node.func.id in ("sorted", "len")
+            and node.args == [call] for node in ast.walk(tree))
+
+
+if __name__ == "__main__":
+    unittest.main()

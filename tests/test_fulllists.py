@@ -176,6 +176,22 @@ class Taking(unittest.TestCase):
             else:
                 self.assertTrue(outright.is_ring((40, lists), ring))
 
+    def test_ring_elsewhere(self):
+        """Things between rings, or tied to one another in threes, can't go, but rings need not be through these."""
+        two_rings = (9, ((0, 1), (0, 5), (1, 2), (2, 3), (3, 4), (1, 4), (5, 6), (6, 7), (7, 8), (5, 8)))
+        three_rings = (9, ((0, 1, 2), (1, 3), (3, 4), (0, 4), (2, 5), (5, 6), (1, 6), (2, 7), (7, 8), (0, 8)))
+        draw = random.Random(14)
+        drawn = [
+            (9, tuple(tuple(sorted(draw.sample(range(9), draw.choice((2, 2, 3))))) for _ in range(draw.randrange(6, 12))))
+            for _ in range(300)]
+        found = 0
+        for book in [two_rings, three_rings] + drawn:
+            ring = ring_of(book)
+            found += ring is not None
+            self.assertIs(ring is None, taken(book) is not None, book)
+            self.assertTrue(ring is None or outright.is_ring(book, ring), book)
+        self.assertTrue(20 < found < 290)
+
     def test_ring_with_lists_on_it(self):
         book = (10, tuple((x, (x + 1) % 5, 5 + x) if x < 4 else (0, 4, 9) for x in range(5)))
         self.assertEqual(sorted(ring_of(book)), [0, 1, 2, 3, 4])

@@ -17,12 +17,16 @@ MORE = (
     (6, ((0, 1, 5), (0, 2, 5), (3, 4))),
     (8, ((0, 4), (4, 7), (0, 7), (0, 1), (1, 2), (2, 3), (3, 7))),
 )
+# Two rows of four things with the same tied ends; and this with one or two ties more.
+TWO_ROWS = ((0, 1), (0, 3), (0, 5), (1, 2), (2, 5), (3, 4), (4, 5))
+ACROSS = tuple(tie for tie in combinations(range(6), 2) if tie not in TWO_ROWS)
+CROSSED = tuple((6, TWO_ROWS + more) for many in (1, 2) for more in combinations(ACROSS, many))
 
 
 def by_all_sortings(book):
     """True if every two sortings have a least one of those above both."""
-    found = [sum(1 << k for k, tie in enumerate(outright.ties(book)) if tie in sorting)
-             for sorting in outright.sortings(book)]
+    by_lines = {outright.by_line(book, line) for line in permutations(range(book[0]))}
+    found = [sum(1 << k for k, tie in enumerate(outright.ties(book)) if tie in sorting) for sorting in by_lines]
     for one, other in combinations(found, 2):
         above = [mask for mask in found if mask & one == one and mask & other == other]
         if not any(all(mask & least == least for mask in above) for least in above):
@@ -94,8 +98,17 @@ class Leasts(unittest.TestCase):
                 self.assertIs(has_least(book), wanted, book)
         self.assertEqual(found, {True, False})
 
+    def test_six_things_by_all_sortings(self):
+        found = set()
+        for book in outright.drawn_books(30, 6, 23) + MORE[:3]:
+            if len(outright.ties(book)) <= 7:
+                wanted = by_all_sortings(book)
+                found.add(wanted)
+                self.assertIs(has_least(book), wanted, book)
+        self.assertEqual(found, {True, False})
+
     def test_papers(self):
-        for book in SMALL + MORE[:4]:
+        for book in SMALL + MORE[:4] + CROSSED:
             paper, papers = loop_of(book), all_papers(book)
             self.assertIs(has_least(book), paper is None)
             if paper is None:
@@ -148,6 +161,19 @@ class Checker(unittest.TestCase):
                 values.append(paper)
                 values.extend(changes(paper))
             for value in values:
+                self.assertEqual(refused(lets_loop, book, value), check_loop(book, value), (book, value))
+
+    def test_each_tie_across(self):
+        """Of all that two rows can have tied besides, each one tie alone is refused."""
+        self.assertEqual(lets_loop((6, TWO_ROWS), ("rows", (0, 1, 2, 5), (0, 3, 4, 5))), "rows")
+        for tie in ACROSS:
+            for rows in (((0, 1, 2, 5), (0, 3, 4, 5)), ((0, 3, 4, 5), (0, 1, 2, 5))):
+                outcome = refused(lets_loop, (6, TWO_ROWS + (tie,)), ("rows", *rows))
+                self.assertEqual(outcome, told("tied", -1), tie)
+        for book in CROSSED[::3]:
+            rows = [row for row in outright.lots(range(6)) if row[:1] + row[-1:] == (0, 5)]
+            for value in permutations(rows, 2):
+                value = ("rows", *value)
                 self.assertEqual(refused(lets_loop, book, value), check_loop(book, value), (book, value))
 
     def test_first_that_applies(self):

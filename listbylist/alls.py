@@ -4,11 +4,16 @@ from listbylist.errors import need
 from listbylist.sortkinds import is_sorting
 
 
+def are_turned(ties, sorting):
+    """True if the sorting turns all of these ties."""
+    return all([tie in sorting for tie in ties])
+
+
 def is_beneath(book, sorting, other):
     """True if sorting is beneath other."""
     need(is_sorting(book, sorting), "sorting")
     need(is_sorting(book, other), "other")
-    return all([tie in other for tie in sorting])
+    return are_turned(sorting, other)
 
 
 def led_too(reach, ahead, behind):

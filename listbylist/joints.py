@@ -1,7 +1,7 @@
 """Well jointed or not, and why not."""
-from listbylist.bookkinds import are_tied, is_thing, is_tie
+from listbylist.bookkinds import are_tied, is_book, is_thing, is_tie
 from listbylist.books import between_in, between_of, ties_of
-from listbylist.errors import InvalidPaper
+from listbylist.errors import InvalidPaper, Unjointed, need
 from listbylist.fulllists import full_lists, shared_by
 from listbylist.masks import near_masks, things_of
 from listbylist.taking import is_bare_ring, ring_of
@@ -45,6 +45,14 @@ def joint_of(book):
         if gap is not None:
             return ("gap", tie) + gap
     return None
+
+
+def need_jointed(book):
+    """Raise NotUsable, or Unjointed, unless this is a well jointed book."""
+    need(is_book(book), "book")
+    paper = joint_of(book)
+    if paper is not None:
+        raise Unjointed(paper)
 
 
 def begins(thing, word, many):

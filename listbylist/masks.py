@@ -129,3 +129,14 @@ def round_in(out):
         walk.append(thing)
         thing = first_of(out[thing] & left)
     return tuple(walk[walk.index(thing):])
+
+
+def line_in(out):
+    """The first, as Python sorts, of the lines in which nothing leads to an earlier thing; out leads in no round."""
+    left = list(range(len(out)))
+    line = []
+    while left:
+        free = [thing for thing in left if not any([out[other] >> thing & 1 for other in left])]
+        line.append(free[0])
+        left = [thing for thing in left if thing != free[0]]
+    return tuple(line)

@@ -2,7 +2,7 @@
 from listbylist.books import ties_of
 from listbylist.errors import need
 from listbylist.kinds import is_line
-from listbylist.masks import leading_masks
+from listbylist.masks import leading_masks, line_in
 from listbylist.sortkinds import is_sorting
 
 
@@ -28,11 +28,4 @@ def fits_line(book, sorting, line):
 def line_of(book, sorting):
     """The first, as Python sorts, of the lines that fit."""
     need(is_sorting(book, sorting), "sorting")
-    out = leading_masks(book, sorting)
-    left = list(range(book[0]))
-    line = []
-    while left:
-        free = [thing for thing in left if not any([out[other] >> thing & 1 for other in left])]
-        line.append(free[0])
-        left = [thing for thing in left if thing != free[0]]
-    return tuple(line)
+    return line_in(leading_masks(book, sorting))

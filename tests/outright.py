@@ -3,6 +3,7 @@
 Books of the tests, values of wrong kinds, and values with one thing changed stand here, too.
 """
 import random
+from functools import lru_cache
 from itertools import combinations, permutations, product
 
 LIST = (3, ((0, 1, 2),))
@@ -36,6 +37,17 @@ SHAPES = (
     (5, ((0, 1, 2), (0, 2, 3), (0, 3, 4))),
     (5, ((0, 1), (1, 4), (0, 4), (0, 2), (2, 3), (3, 4))),
 )
+
+
+# Well jointed books: some more shapes, six things at most, few enough sortings to go through them.
+MORE_JOINTED = (
+    (3, ((0, 1), (1, 2))), (3, ((0, 2),)), (4, ((0, 1, 2), (2, 3))), (4, ((0, 2, 3), (1, 2, 3))),
+    (4, ((0, 1), (0, 2), (0, 3), (1, 2), (1, 3), (2, 3))), (4, ((0, 1, 2, 3), (1, 2), (1, 2, 3))),
+    (5, ((0, 1), (1, 2, 3), (3, 4))), (5, ((0, 1, 2), (1, 2, 3), (2, 3, 4))), (5, ((0, 3, 4), (1, 3, 4), (2, 3, 4))),
+    (5, ((0, 1, 2, 3), (2, 3, 4))), (5, ((0, 2, 3, 4), (1, 2, 3))), (6, ((0, 1, 2), (1, 2, 3), (3, 4, 5))),
+    (6, ((0, 3), (1, 3), (2, 3), (3, 4), (3, 5))), (6, ((0, 1, 2), (3, 4, 5))),
+)
+FIVE = (5, ((0, 1, 2, 3, 4),))
 
 
 def drawn_book(draw, size):
@@ -245,9 +257,14 @@ def is_sortings(book, value):
     return type(value) is tuple and all(is_sorting(book, x) for x in value)
 
 
+@lru_cache(None)
+def kept_sortings(book):
+    return tuple(sorted(lot for lot in lots(ties(book)) if not in_round(book, lot)))
+
+
 def sortings(book):
     """All lots of ties that do not lead in a round, ascending."""
-    return sorted(lot for lot in lots(ties(book)) if not in_round(book, lot))
+    return list(kept_sortings(book))
 
 
 def told_by(book, orders):
@@ -261,6 +278,213 @@ def told_by(book, orders):
         return ("Quarrel", quarrels[0])
     turned = tuple(sorted(tie for tie, both in put.items() if both == {True}))
     return ("InRound",) if in_round(book, turned) else ("gives", turned)
+
+
+def steps_of(row):
+    return list(zip(row, row[1:]))
+
+
+def row_ties(book, steps):
+    """All ties from whose low to whose high a row leads with each step among these, by all rows."""
+    return tuple(
+        tie for tie in ties(book)
+        if any(all(step in steps for step in steps_of(row)) for row in rows(book, *tie)))
+
+
+def least_above(book, some):
+    """The least sorting above all of some, among all sortings, or None."""
+    above = [sorting for sorting in sortings(book) if all(set(one) <= set(sorting) for one in some)]
+    least = [sorting for sorting in above if all(set(sorting) <= set(other) for other in above)]
+    return least[0] if least else None
+
+
+def greatest_beneath(book, some):
+    beneath = [sorting for sorting in sortings(book) if all(set(sorting) <= set(one) for one in some)]
+    greatest = [sorting for sorting in beneath if all(set(other) <= set(sorting) for other in beneath)]
+    return greatest[0] if greatest else None
+
+
+def merged_alone(book, things, some):
+    """The order of a list merged by itself by the words of [7]: by all rows of its things."""
+    turned = set().union(*some) if some else set()
+    alone = (book[0], (things,)) if len(things) > 1 else (book[0], ())
+    found = [
+        tie for tie in combinations(things, 2)
+        if any(all(step in turned for step in steps_of(row)) for row in rows(alone, *tie))]
+    return tuple(sorted(things, key=lambda x: sum(ahead(found, y, x) for y in things if y != x)))
+
+
+def draw_tuples(draw, book, many):
+    """Tuples of none, one, two, three and eight sortings, and some with one of them twice."""
+    found = sortings(book)
+    yield ()
+    yield (found[-1],)
+    yield (draw.choice(found),) * 2
+    yield tuple(draw.choice(found) for _ in range(8))
+    for _ in range(many):
+        yield tuple(draw.choice(found) for _ in range(draw.choice((2, 2, 2, 3))))
+
+
+JOINTED = tuple(book for book in SMALL + MORE_JOINTED if jointed(book) and len(sortings(book)) <= 110)
+
+
+def ropes(book):
+    """All lots of what is between as what is ahead."""
+    return sorted((*tie, lot) for tie in ties(book) for lot in lots(between(book, tie)))
+
+
+def is_rope(book, value):
+    return (
+        type(value) is tuple and len(value) == 3 and is_tie(book, value[:2]) and is_lot(book, value[2])
+        and set(value[2]) <= set(between(book, value[:2]))
+    )
+
+
+def is_ropes(book, value):
+    return type(value) is tuple and all(is_rope(book, x) for x in value) and all(
+        a < b for a, b in zip(value, value[1:]))
+
+
+def behind(book, rope):
+    return tuple(x for x in between(book, rope[:2]) if x not in rope[2])
+
+
+def things_on(book, rope):
+    return {*rope[:2], *between(book, rope[:2])}
+
+
+def rope_puts(book, rope, x, y):
+    """True if the rope puts x ahead of y: those ahead, high, low, those behind."""
+    parts = (rope[2], rope[1:2], rope[:1], behind(book, rope))
+    return any(x in one and y in other for one, other in combinations(parts, 2))
+
+
+def crossings(book, rope, other):
+    """All that shows that the two cross, by the words of [8]."""
+    both = things_on(book, rope) & things_on(book, other)
+    found = {
+        ("against", x, y) for x, y in permutations(both, 2)
+        if rope_puts(book, rope, x, y) and rope_puts(book, other, y, x)}
+    for one, two in ((rope, other), (other, rope)):
+        found |= {
+            ("amid", z) for z in things_on(book, one)
+            if rope_puts(book, one, two[1], z) and rope_puts(book, one, z, two[0])}
+    return found
+
+
+def shows(book, turned, rope):
+    low, high, front = rope
+    return ahead(turned, high, low) and all(
+        ahead(turned, x, low) and ahead(turned, x, high) for x in front) and all(
+        ahead(turned, low, x) and ahead(turned, high, x) for x in behind(book, rope))
+
+
+def rises_by(book, turned, rope):
+    """Low is put ahead of high, those ahead ahead of both, those behind behind both."""
+    low, high, front = rope
+    return ahead(turned, low, high) and all(
+        ahead(turned, x, low) and ahead(turned, x, high) for x in front) and all(
+        ahead(turned, low, x) and ahead(turned, high, x) for x in behind(book, rope))
+
+
+def flip(turned, tie):
+    return tuple(sorted(set(turned) ^ {tie}))
+
+
+@lru_cache(None)
+def open_ties(book, turned):
+    """Those whose exchange gives a sorting."""
+    return tuple(tie for tie in ties(book) if not in_round(book, flip(turned, tie)))
+
+
+def falls(book, turned):
+    return [tie for tie in open_ties(book, turned) if tie in turned]
+
+
+def rises(book, turned):
+    return [tie for tie in open_ties(book, turned) if tie not in turned]
+
+
+@lru_cache(None)
+def reasons(book, turned):
+    """The ropes that it shows for its falls."""
+    down = falls(book, turned)
+    return tuple(rope for rope in ropes(book) if rope[:2] in down and shows(book, turned, rope))
+
+
+@lru_cache(None)
+def rise_reasons(book, turned):
+    up = rises(book, turned)
+    return tuple(
+        rope for rope in ropes(book)
+        if rope[:2] in up and set(rope[2]) == {
+            x for x in between(book, rope[:2]) if ahead(turned, x, rope[0]) and ahead(turned, x, rope[1])})
+
+
+WORDS = ("all", "none", "ropes", "above", "amid", "ahead", "behind", "not", "both", "either")
+
+
+def is_pattern(book, value):
+    if type(value) is not tuple or not value or type(value[0]) is not str:
+        return False
+    word, parts = value[0], value[1:]
+    kinds = {
+        "all": (), "none": (), "ropes": (is_ropes,), "above": (is_ropes,), "amid": (is_many,), "ahead": (is_many,),
+        "behind": (is_many,), "not": (is_pattern,), "both": (is_pattern,) * 2, "either": (is_pattern,) * 2,
+    }
+    return word in kinds and len(parts) == len(kinds[word]) and all(
+        kind(book, part) for kind, part in zip(kinds[word], parts))
+
+
+def is_many(book, value):
+    return is_int(value) and value >= 0
+
+
+def pieces(book, rope):
+    """Each rope whose ends are two things of the rope and whose ahead are those between that are ahead on it."""
+    on = things_on(book, rope)
+    return [
+        (low, high, tuple(x for x in between(book, (low, high)) if x in rope[2]))
+        for low, high in ties(book) if low in on and high in on]
+
+
+def tells(book, pattern, rope):
+    """True if the pattern tells the rope."""
+    word, *parts = pattern
+    if word in ("all", "none"):
+        return word == "all"
+    if word == "ropes":
+        return rope in parts[0]
+    if word == "above":
+        return any(one in pieces(book, rope) for one in parts[0])
+    if word == "not":
+        return not tells(book, parts[0], rope)
+    if word in ("both", "either"):
+        told_by_parts = [tells(book, part, rope) for part in parts]
+        return min(told_by_parts) if word == "both" else max(told_by_parts)
+    counts = {"amid": between(book, rope[:2]), "ahead": rope[2], "behind": behind(book, rope)}
+    return len(counts[word]) >= parts[0]
+
+
+@lru_cache(None)
+def told_ropes(book, pattern):
+    return tuple(rope for rope in ropes(book) if tells(book, pattern, rope))
+
+
+def falls_in(book, turned, pattern):
+    told_here = told_ropes(book, pattern)
+    return tuple(rope[:2] for rope in reasons(book, turned) if rope in told_here)
+
+
+def undoes(book, turned, pattern, value):
+    """True if value is a tuple of ties that, exchanged in sequence, each undo by the pattern."""
+    if type(value) is not tuple:
+        return False
+    for tie in value:
+        if not is_tie(book, tie) or tie not in falls_in(book, turned, pattern):
+            return False
+        turned = flip(turned, tie)
+    return True
 
 
 def is_book(value):
@@ -322,6 +546,17 @@ def changes(value):
         yield from (value + "s", "", "ring", "gap", "loop", "rows", None, 0)
     else:
         yield from (0, (), "x")
+
+
+def rebooled(value):
+    """Values that are equal to this one, but hold True or False for a number."""
+    if is_int(value):
+        if value in (0, 1):
+            yield bool(value)
+    elif isinstance(value, tuple):
+        for k, part in enumerate(value):
+            for other in rebooled(part):
+                yield value[:k] + (other,) + value[k + 1:]
 
 
 def pairs_of(values):

@@ -4,7 +4,9 @@ import unittest
 from itertools import combinations
 
 import outright
-from outright import GAP, LIST, LOOP, ODD, PAIR, SMALL, THREE, changes, refused, same, told, told_by
+from outright import (
+    GAP, LIST, LOOP, ODD, PAIR, SMALL, THREE, changes, draw_tuples, greatest_beneath, least_above, merged_alone, refused,
+    row_ties, same, steps_of, told, told_by)
 from listbylist.closures import closure_of
 from listbylist.joints import is_jointed, own_hole
 from listbylist.leasts import has_least
@@ -16,51 +18,6 @@ from listbylist.whychecker import lets_kept, lets_turned
 from listbylist.whyrows import why_kept, why_turned
 
 DRAWN = outright.drawn_books(8, 6, 21)
-
-
-def steps_of(row):
-    return list(zip(row, row[1:]))
-
-
-def row_ties(book, steps):
-    """All ties from whose low to whose high a row leads with each step among these, by all rows."""
-    return tuple(
-        tie for tie in outright.ties(book)
-        if any(all(step in steps for step in steps_of(row)) for row in outright.rows(book, *tie)))
-
-
-def least_above(book, some):
-    """The least sorting above all of some, among all sortings, or None."""
-    above = [sorting for sorting in outright.sortings(book) if all(set(one) <= set(sorting) for one in some)]
-    least = [sorting for sorting in above if all(set(sorting) <= set(other) for other in above)]
-    return least[0] if least else None
-
-
-def greatest_beneath(book, some):
-    beneath = [sorting for sorting in outright.sortings(book) if all(set(sorting) <= set(one) for one in some)]
-    greatest = [sorting for sorting in beneath if all(set(other) <= set(sorting) for other in beneath)]
-    return greatest[0] if greatest else None
-
-
-def merged_alone(book, things, some):
-    """The order of a list merged by itself by the words of [7]: by all rows of its things."""
-    turned = set().union(*some) if some else set()
-    alone = (book[0], (things,)) if len(things) > 1 else (book[0], ())
-    ties = [
-        tie for tie in combinations(things, 2)
-        if any(all(step in turned for step in steps_of(row)) for row in outright.rows(alone, *tie))]
-    return tuple(sorted(things, key=lambda x: sum(outright.ahead(ties, y, x) for y in things if y != x)))
-
-
-def draw_tuples(draw, book, many):
-    """Tuples of none, one, two, three and eight sortings, and some with one of them twice."""
-    found = outright.sortings(book)
-    yield ()
-    yield (found[-1],)
-    yield (draw.choice(found),) * 2
-    yield tuple(draw.choice(found) for _ in range(8))
-    for _ in range(many):
-        yield tuple(draw.choice(found) for _ in range(draw.choice((2, 2, 2, 3))))
 
 
 class Closures(unittest.TestCase):

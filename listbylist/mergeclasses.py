@@ -41,7 +41,8 @@ class Merge:
     def grown(self, sorting):
         """A new Merge with one more sorting, the last one."""
         need(is_sorting(self._book, sorting), "sorting")
-        return Merge(self._book, *self._sortings, sorting)
+        sortings = self._sortings + (sorting,)
+        return Merge(self._book, *sortings)
 
     def told(self):
         """The pair (book, sortings)."""

@@ -1,6 +1,6 @@
 """Pairs of sortings without a least common one, and papers that show it."""
-from listbylist.bookkinds import are_tied
 from listbylist.alls import are_turned
+from listbylist.bookkinds import are_tied
 from listbylist.books import ties_of
 from listbylist.closures import closed, turned_by_some
 from listbylist.errors import InvalidPaper
@@ -54,8 +54,9 @@ def unmerged_paper(book, sorting, other):
     closure = closed(book, turned)
     downs = step_masks(book[0], [(high, low) for low, high in turned])
     ups = step_masks(book[0], [tie for tie in ties_of(book) if tie not in closure])
-    # A hop alone leads in no round, since what it goes up is not in the closure. Of a round with the fewest
-    # hops the steps up of some, but not all hops, lead in no round either: one with fewer hops would be there.
+    # A hop is one step up and then steps down; one hop alone leads in no round, since its step up is not in the
+    # closure. In a round with the fewest hops, only some of the steps up lead in no round either, so that one
+    # sorting can keep the first of them, another one the others.
     hops = shortest_round(hop_masks(ups, reach_masks(downs)))
     if hops is None:
         return None

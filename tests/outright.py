@@ -41,7 +41,7 @@ SHAPES = (
 
 # Well jointed books: some more shapes, six things at most, few enough sortings to go through them.
 MORE_JOINTED = (
-    (3, ((0, 1), (1, 2))), (3, ((0, 2),)), (4, ((0, 1, 2), (2, 3))), (4, ((0, 2, 3), (1, 2, 3))),
+    (3, ((0, 1), (1, 2))), (3, ((0, 2),)), (4, ((0, 2), (0, 1, 3))), (4, ((0, 1, 2), (2, 3))), (4, ((0, 2, 3), (1, 2, 3))),
     (4, ((0, 1), (0, 2), (0, 3), (1, 2), (1, 3), (2, 3))), (4, ((0, 1, 2, 3), (1, 2), (1, 2, 3))),
     (5, ((0, 1), (1, 2, 3), (3, 4))), (5, ((0, 1, 2), (1, 2, 3), (2, 3, 4))), (5, ((0, 3, 4), (1, 3, 4), (2, 3, 4))),
     (5, ((0, 1, 2, 3), (2, 3, 4))), (5, ((0, 2, 3, 4), (1, 2, 3))), (6, ((0, 1, 2), (1, 2, 3), (3, 4, 5))),
@@ -485,6 +485,66 @@ def undoes(book, turned, pattern, value):
             return False
         turned = flip(turned, tie)
     return True
+
+
+def choices(book):
+    """(low end rope, high end rope, middle-ahead rope, middle-behind rope) of all choices of [9]."""
+    for low, middle, high in combinations(range(book[0]), 3):
+        if not (tied(book, low, middle) and tied(book, middle, high) and tied(book, low, high)):
+            continue
+        for front in lots(x for x in between(book, (low, high)) if x != middle):
+            yield (
+                (low, middle, tuple(x for x in between(book, (low, middle)) if x in front)),
+                (middle, high, tuple(x for x in between(book, (middle, high)) if x in front)),
+                (low, high, tuple(sorted(front + (middle,)))),
+                (low, high, front))
+
+
+def even(book, pattern):
+    """On the rung "even", by all choices."""
+    found = told_ropes(book, pattern)
+    return all(
+        ahead_rope in found and behind_rope in found for low, high, ahead_rope, behind_rope in choices(book)
+        if low in found and high in found)
+
+
+def ends_from(book, turned, pattern):
+    """All ends to which undoing leads, in every sequence."""
+    seen, left = {turned}, [turned]
+    while left:
+        one = left.pop()
+        for tie in falls_in(book, one, pattern):
+            other = flip(one, tie)
+            if other not in seen:
+                seen.add(other)
+                left.append(other)
+    return tuple(sorted(one for one in seen if not falls_in(book, one, pattern)))
+
+
+def drawn_pattern(draw, book, deep=4):
+    """A pattern with each of the ten words, at most so deep."""
+    word = draw.choice(WORDS if deep > 1 else WORDS[:7])
+    if word in ("all", "none"):
+        return (word,)
+    if word in ("ropes", "above"):
+        every = ropes(book)
+        many = draw.choice((0, 1, 1, 2, 3, len(every) // 2, len(every)))
+        return (word, tuple(sorted(draw.sample(every, min(many, len(every))))))
+    if word in ("amid", "ahead", "behind"):
+        return (word, draw.choice((0, 1, 1, 1, 2, 2, 3, 40)))
+    return (word, *(drawn_pattern(draw, book, deep - 1) for _ in range(1 if word == "not" else 2)))
+
+
+def each_word(draw, book):
+    """A pattern for each of the ten words, and others up to four deep."""
+    every = ropes(book)
+    few = tuple(sorted(draw.sample(every, min(2, len(every)))))
+    yield from (("all",), ("none",), ("ropes", ()), ("above", ()), ("ropes", tuple(every)), ("ropes", few), ("above", few))
+    yield from ((word, many) for word in ("amid", "ahead", "behind") for many in (0, 1, 2))
+    yield from (("not", ("ropes", few)), ("not", ("not", ("not", ("ahead", 1)))), ("both", ("ahead", 1), ("behind", 1)))
+    yield from (("either", ("ropes", few), ("amid", 2)), ("both", ("not", ("above", few)), ("either", ("all",), ("none",))))
+    for _ in range(8):
+        yield drawn_pattern(draw, book)
 
 
 def is_book(value):

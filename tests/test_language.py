@@ -53,6 +53,42 @@ INTERFACE = {
     "listmerges": (
         "list_order(book, place, sortings)", "list_orders(book, sortings)", "fits_lists(book, sortings)",
         "merged_by_lists(book, sortings)", "own_merges(book, sortings)", "fits_own(book, sortings)"),
+    "firstlast": ("first_last(book, here)", "fits_first_last(book)"),
+    "unfits": ("unfit_pair(book)", "lets_unfit(book, thing)", "unfit_own(book)"),
+    "noleasts": (
+        "unmerged_paper(book, sorting, other)", "lets_unmerged(book, sorting, other, thing)", "unmerged_pair(book)"),
+    "tried": ("least_ones(book, sorting, other)", "greatest_ones(book, sorting, other)"),
+    "spans": ("between_sortings(book, sorting, other)", "agreed_ties(book, sortings)"),
+    "ropekinds": ("is_rope(book, thing)", "is_ropes(book, thing)", "behind_of(book, rope)", "middle_of(book, rope)"),
+    "ropelists": ("ropes_of(book)", "rope_count(book)"),
+    "showing": ("shows(book, sorting, rope)", "rope_at(book, sorting, tie)"),
+    "showings": ("least_showing(book, rope)", "beneath_showing(book, rope)", "greatest_rising(book, rope)"),
+    "reasons": ("reasons_of(book, sorting)", "sorting_by_reasons(book, ropes)"),
+    "crossings": (
+        "crossing_of(book, rope, other)", "crossed_pair(book, ropes)", "lets_crossing(book, rope, other, thing)"),
+    "origins": ("who_shows(book, sortings, rope)", "merged_reasons(book, sortings)"),
+    "makings": (
+        "makes(book, sorting, sortings)", "reason_sortings(book, sorting)", "is_reason_lot(book, sorting, thing)",
+        "reasons_apart(book, sorting, other)"),
+    "rising": ("rise_reasons(book, sorting)", "sorting_by_rises(book, ropes)"),
+    "turning": ("turn_of(book, sorting)", "turn_back(book, sorting)", "turn_round(book, sorting)"),
+    "ropetexts": (
+        "rope_line(book, rope)", "read_rope(book, text)", "ropes_text(book, ropes)", "read_ropes(book, text)"),
+    "patternkinds": ("is_pattern(book, thing)", "is_plain(book, thing)"),
+    "patternlots": ("in_pattern(book, pattern, rope)", "pattern_ropes(book, pattern)"),
+    "patterntexts": ("pattern_line(book, pattern)", "read_pattern(book, text)"),
+    "pieces": ("is_piece(book, rope, other)", "cut_rope(book, rope, tie)", "pieces_of(book, rope)"),
+    "uppers": ("above_of(book, ropes)",),
+    "undoing": (
+        "falls_in(book, sorting, pattern)", "is_end(book, sorting, pattern)", "undo_first(book, sorting, pattern)",
+        "end_first(book, sorting, pattern)", "undone(book, sorting, pattern, steps)"),
+    "undochecker": ("lets_undoing(book, sorting, pattern, thing)",),
+    "endings": (
+        "ends_from(book, sorting, pattern)", "all_ends(book, pattern)", "lots_outside(book, pattern)",
+        "told_back(book, sortings)"),
+    "corners": ("corner_of(book, sorting, tie, other)", "corner_ropes(book, sorting, tie, other)"),
+    "evens": ("sides_of(book, rope, other)", "is_even(book, pattern)", "uneven_pair(book, pattern)"),
+    "unlikes": ("unlike_ends(book, pattern)", "lets_unlike(book, pattern, thing)"),
 }
 CLASSES = {
     ("bookclasses", "Book"): (
@@ -61,7 +97,17 @@ CLASSES = {
     ("sortclasses", "Sorting"): (
         "__init__(self, book, line)", "__eq__(self, other)", "falls(self)", "rises(self)", "orders(self)",
         "told(self)", "moved(self, tie)", "apart(self, other)", "beneath(self, other)"),
+    ("mergeclasses", "Merge"): (
+        "__init__(self, book, *sortings)", "__eq__(self, other)", "least(self)", "greatest(self)", "why(self, tie)",
+        "orders(self)", "grown(self, sorting)", "told(self)"),
+    ("reasonclasses", "Reasons"): (
+        "__init__(self, book, sorting)", "__len__(self)", "__eq__(self, other)", "ropes(self)", "turned_on(self)",
+        "merged(self, other)", "told(self)"),
+    ("undoclasses", "Undoing"): (
+        "__init__(self, book, pattern)", "__eq__(self, other)", "even(self)", "ropes(self)", "last(self, sorting)",
+        "falls(self, sorting)", "ends(self)", "told(self)"),
 }
+GENERATORS = (("alls", "all_sortings"), ("spans", "between_sortings"))
 CALLED = (
     "len range enumerate zip min max sum abs sorted reversed int str bool list tuple dict set isinstance repr any all"
 ).split()
@@ -118,9 +164,14 @@ class Interface(unittest.TestCase):
             for head in heads:
                 self.same_head(made, head)
 
-    def test_generator(self):
-        alls = importlib.import_module("listbylist.alls")
-        self.assertTrue(inspect.isgeneratorfunction(alls.all_sortings))
+    def test_generators(self):
+        for file, name in GENERATORS:
+            made = vars(importlib.import_module("listbylist." + file))[name]
+            self.assertTrue(inspect.isgeneratorfunction(made))
+        every = [vars(importlib.import_module("listbylist." + name[:-3])) for name in FILES if name.endswith(".py")]
+        found = {
+            (value.__module__, key) for file in every for key, value in file.items() if inspect.isgeneratorfunction(value)}
+        self.assertEqual(found, {("listbylist." + file, name) for file, name in GENERATORS})
 
 
 class Files(unittest.TestCase):

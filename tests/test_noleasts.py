@@ -149,7 +149,8 @@ class Papers(unittest.TestCase):
             ((ONE, TWO, ring, ring), "shape", -1), ((None, None, None), "sorting", 0), (((), None, ring), "above", 0),
             ((both[0], (0, 1), ring), "above", 0), ((ONE, None, ring), "sorting", 1), ((ONE, (), None), "above", 1),
             ((ONE, both[1], ()), "above", 1), ((ONE, ONE, ring), "ring", -1), ((ONE, TWO, None), "ring", -1),
-            ((ONE, TWO, list(ring)), "ring", -1), ((ONE, TWO, (0, 3)), "ring", -1), ((ONE, TWO, ring * 2), "ring", -1),
+            ((ONE, TWO, list(ring)), "ring", -1), ((ONE, TWO, (0, 3)), "ring", -1), ((ONE, TWO, ()), "ring", -1),
+            ((ONE, TWO, (0,)), "ring", -1), ((ONE, TWO, (3, 0)), "ring", -1), ((ONE, TWO, ring * 2), "ring", -1),
             ((ONE, TWO, ring[::-1]), "ring", -1), ((ONE, TWO, (False, 3, True, 2)), "ring", -1),
             ((ONE, TWO, (0, 3, 1, 4)), "ring", -1), ((outright.ties(LOOP), outright.ties(LOOP), ring), "ring", -1),
         ):

@@ -1,13 +1,16 @@
 """[2], [12]: what is not as stated is refused, the first in the sequence of the parameters; nothing is changed."""
 import copy
+import functools
 import random
 import unittest
 
 import outright
 from outright import GAP, LIST, LOOP, ODD, PAIR, THREE, refused
 from listbylist import (
-    alls, bookchanges, books, closures, exchanging, fulllists, joints, listmerges, listorders, merging, opens, rounds,
-    sortlines, sorttexts, sortturns, stepping, ways, whychecker, whyrows)
+    alls, bookchanges, books, closures, corners, crossings, endings, evens, exchanging, firstlast, fulllists, joints,
+    listmerges, listorders, makings, merging, noleasts, opens, origins, patternlots, patterntexts, pieces, reasons,
+    rising, ropekinds, ropetexts, rounds, showing, showings, sortlines, sorttexts, sortturns, spans, stepping, tried,
+    turning, undochecker, undoing, unlikes, uppers, ways, whychecker, whyrows)
 
 ROUND = ((0, 1), (1, 2))
 MORE = ODD + (
@@ -15,6 +18,17 @@ MORE = ODD + (
     ((0, 1), (0, 2), (1, 2), (1, 2)), (0, 1, 2, 3, 3), [0, 1, 2, 3], (0, 1, 2, 3, True), (3, 2, 1, 0), (0, 1, 2), 0, 1,
     2, 3, 4, 5, (), (0,), (1,), (4,), (0, 1), (0, 3), (0, 4), ((0, 1),), ((0, 3),), ((0, 2), (0, 3)), ((),), ((), ()),
     ((0, 1, 2), (1, 2, 3)), ((0, 1, 2), (0, 2, 3)), (LIST,), LIST, PAIR, (4, ()), (4, [])
+)
+# These are for what is asked of well jointed books, too.
+ROPED = MORE + (
+    (0, 2), (1, 2), (1, 3), [1, 2],
+    (0, 1, ()), (0, 2, ()), (0, 2, (1,)), (1, 3, ()), (0, 2, [1]), (0, 2, (True,)), (False, 1, ()), (0, 2, (1, 1)),
+    ((0, 1, ()),), ((0, 2, ()),), ((0, 1, ()), (0, 2, (1,))), ((0, 2, (1,)), (0, 1, ())), [(0, 1, ())], ((0, True, ()),),
+    ((0, 1), (0, 2)), ((1, 2), (1, 3)), ((0, 2), (1, 2)), ((1, 2), (0, 2)), ((0, 1), (0, 2), (1, 2)), ((1, 3),), ("all",), ("none",), ["all"],
+    ("amid", 1), ("ahead", 0), ("behind", 2), ("amid", True), ("amid", -1), ("amid",), ("amid", 1, 1), ("all", 1), "all",
+    ("ropes", ()), ("above", ()), ("ropes", ((0, 1, ()),)), ("above", ((0, 1, ()),)), ("ropes", [(0, 1, ())]), ("ropes",),
+    ("above", ((0, True, ()),)), ("ropes", ((0, 2, ()), (0, 1, ()))), ("not", ("all",)), ("not", "all"), ("not",),
+    ("both", ("all",), ("amid", 1)), ("either", ("none",), ("amid", False)), ("both", ("all",)), (("all",),),
 )
 
 # What each parameter may be: given the book, the values ahead by name, and the value.
@@ -39,7 +53,25 @@ STATED = {
         type(value) is tuple and len(value) > 1 and all(outright.is_below(book[0], x) for x in value)
         and len(set(value)) == len(value)),
     "text": lambda book, told, value: type(value) is str,
+    "above": lambda book, told, value: (
+        outright.is_sorting(book, value) and set(told["sorting"]) <= set(value)),
+    "rope": lambda book, told, value: outright.is_rope(book, value),
+    "ropes": lambda book, told, value: outright.is_ropes(book, value),
+    "cut": lambda book, told, value: (
+        outright.is_tie(book, value) and set(value) <= outright.things_on(book, told["rope"])),
+    "pattern": lambda book, told, value: outright.is_pattern(book, value),
+    "fall": lambda book, told, value: outright.is_tie(book, value) and value in outright.falls(book, told["sorting"]),
+    "fall_other": lambda book, told, value: (
+        outright.is_tie(book, value) and value in outright.falls(book, told["sorting"]) and value != told["tie"]),
+    "undoing": lambda book, told, value: outright.undoes(book, told["sorting"], told["pattern"], value),
 }
+
+
+def all_of(call):
+    """The generator's results as a list, so that its errors are raised at once."""
+    return functools.wraps(call)(lambda *given, **named: list(call(*given, **named)))
+
+
 CALLS = (
     (books.is_tied, (("here", "here"), ("there", "there"))),
     (books.near_of, (("here", "here"),)),
@@ -93,8 +125,75 @@ CALLS = (
     (listmerges.merged_by_lists, (("sortings", "sortings"),)),
     (listmerges.own_merges, (("sortings", "sortings"),)),
     (listmerges.fits_own, (("sortings", "sortings"),)),
+    (firstlast.first_last, (("here", "here"),)),
+    (noleasts.unmerged_paper, (("sorting", "sorting"), ("other", "sorting"))),
+    (noleasts.lets_unmerged, (("sorting", "sorting"), ("other", "sorting"))),
+    (tried.least_ones, (("sorting", "sorting"), ("other", "sorting"))),
+    (tried.greatest_ones, (("sorting", "sorting"), ("other", "sorting"))),
+    (all_of(spans.between_sortings), (("sorting", "sorting"), ("other", "above"))),
+    (spans.agreed_ties, (("sortings", "sortings"),)),
+)
+SORTED = ("sorting", "sorting")
+UNDONE = (SORTED, ("pattern", "pattern"))
+JOINTED_CALLS = (
+    (ropekinds.behind_of, (("rope", "rope"),)),
+    (ropekinds.middle_of, (("rope", "rope"),)),
+    (showing.shows, (SORTED, ("rope", "rope"))),
+    (showing.rope_at, (SORTED, ("tie", "tie"))),
+    (showings.least_showing, (("rope", "rope"),)),
+    (showings.beneath_showing, (("rope", "rope"),)),
+    (showings.greatest_rising, (("rope", "rope"),)),
+    (reasons.reasons_of, (SORTED,)),
+    (reasons.sorting_by_reasons, (("ropes", "ropes"),)),
+    (crossings.crossing_of, (("rope", "rope"), ("other", "rope"))),
+    (crossings.crossed_pair, (("ropes", "ropes"),)),
+    (crossings.lets_crossing, (("rope", "rope"), ("other", "rope"))),
+    (origins.who_shows, (("sortings", "sortings"), ("rope", "rope"))),
+    (origins.merged_reasons, (("sortings", "sortings"),)),
+    (makings.makes, (SORTED, ("sortings", "sortings"))),
+    (makings.reason_sortings, (SORTED,)),
+    (makings.reasons_apart, (SORTED, ("other", "sorting"))),
+    (rising.rise_reasons, (SORTED,)),
+    (rising.sorting_by_rises, (("ropes", "ropes"),)),
+    (turning.turn_of, (SORTED,)),
+    (turning.turn_back, (SORTED,)),
+    (turning.turn_round, (SORTED,)),
+    (ropetexts.rope_line, (("rope", "rope"),)),
+    (ropetexts.read_rope, (("text", "text"),)),
+    (ropetexts.ropes_text, (("ropes", "ropes"),)),
+    (ropetexts.read_ropes, (("text", "text"),)),
+    (patternlots.in_pattern, (("pattern", "pattern"), ("rope", "rope"))),
+    (patternlots.pattern_ropes, (("pattern", "pattern"),)),
+    (patterntexts.pattern_line, (("pattern", "pattern"),)),
+    (patterntexts.read_pattern, (("text", "text"),)),
+    (pieces.is_piece, (("rope", "rope"), ("other", "rope"))),
+    (pieces.cut_rope, (("rope", "rope"), ("tie", "cut"))),
+    (pieces.pieces_of, (("rope", "rope"),)),
+    (uppers.above_of, (("ropes", "ropes"),)),
+    (undoing.falls_in, UNDONE),
+    (undoing.is_end, UNDONE),
+    (undoing.undo_first, UNDONE),
+    (undoing.end_first, UNDONE),
+    (undoing.undone, UNDONE + (("steps", "undoing"),)),
+    (undochecker.lets_undoing, UNDONE),
+    (endings.ends_from, UNDONE),
+    (endings.all_ends, (("pattern", "pattern"),)),
+    (endings.lots_outside, (("pattern", "pattern"),)),
+    (endings.told_back, (("sortings", "sortings"),)),
+    (corners.corner_of, (SORTED, ("tie", "fall"), ("other", "fall_other"))),
+    (corners.corner_ropes, (SORTED, ("tie", "fall"), ("other", "fall_other"))),
+    (evens.sides_of, (("rope", "rope"), ("other", "rope"))),
+    (evens.is_even, (("pattern", "pattern"),)),
+    (evens.uneven_pair, (("pattern", "pattern"),)),
+    (unlikes.unlike_ends, (("pattern", "pattern"),)),
+    (unlikes.lets_unlike, (("pattern", "pattern"),)),
 )
 BOOKS = (LIST, PAIR, GAP, LOOP, THREE, (1, ()), (2, ((0, 1),)), (5, ((0, 2), (1, 3, 4))))
+JOINTED_BOOKS = (LIST, PAIR, THREE, (1, ()), (2, ((0, 1),)), (5, ((0, 2), (1, 3, 4))))
+EACH = (
+    tuple((call, parameters, BOOKS, MORE) for call, parameters in CALLS)
+    + tuple((call, parameters, JOINTED_BOOKS, ROPED) for call, parameters in JOINTED_CALLS)
+)
 
 
 def first_wrong(book, parameters, values):
@@ -126,36 +225,40 @@ class Parameters(unittest.TestCase):
 
     def test_each_alone(self):
         draw = random.Random(41)
-        for call, parameters in CALLS:
-            for book in BOOKS:
-                good = self.good_values(draw, book, parameters)
+        for call, parameters, books_, values in EACH:
+            for book in books_:
+                good = self.good_values(draw, book, parameters, values)
                 if good is None:
                     continue
                 self.hold(call, parameters, book, good)
                 for k in range(len(good)):
-                    for value in MORE:
+                    for value in values:
                         self.hold(call, parameters, book, good[:k] + (value,) + good[k + 1:])
 
     def test_first_of_several(self):
         draw = random.Random(42)
-        for call, parameters in CALLS:
+        for call, parameters, books_, values in EACH:
             for _ in range(120):
-                book = draw.choice(BOOKS)
-                self.hold(call, parameters, book, tuple(draw.choice(MORE) for _ in parameters))
+                book = draw.choice(books_)
+                self.hold(call, parameters, book, tuple(draw.choice(values) for _ in parameters))
 
-    def good_values(self, draw, book, parameters):
-        given = {}
-        for name, kind in parameters:
-            values = [value for value in MORE if STATED[kind](book, given, value)]
-            if not values:
-                return None
-            given[name] = draw.choice(values)
-        return tuple(given.values())
+    def good_values(self, draw, book, parameters, values):
+        """Values that are as stated; for a few draws there may be none behind what was drawn ahead."""
+        for _ in range(80):
+            given = {}
+            for name, kind in parameters:
+                stated = [value for value in values if STATED[kind](book, given, value)]
+                if not stated:
+                    break
+                given[name] = draw.choice(stated)
+            if len(given) == len(parameters):
+                return tuple(given.values())
+        return None
 
     def test_each_kind_is_met(self):
         draw = random.Random(43)
-        for call, parameters in CALLS:
-            met = [book for book in BOOKS if self.good_values(draw, book, parameters) is not None]
+        for call, parameters, books_, values in EACH:
+            met = [book for book in books_ if self.good_values(draw, book, parameters, values) is not None]
             self.assertTrue(met, call)
 
 

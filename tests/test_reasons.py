@@ -263,6 +263,9 @@ class Makings(unittest.TestCase):
     def test_examples(self):
         self.assertEqual(reason_sortings(LIST, LAST), (((0, 1),), ((1, 2),)))
         self.assertEqual(reasons_apart(LIST, ((0, 1),), LAST), ((), ((1, 2, ()),)))
+        three = ((0, 1), (0, 2), (0, 3))
+        self.assertEqual(reasons_of((4, ((0, 2), (0, 1, 3))), three), ((0, 2, ()), (0, 3, (1,))))
+        self.assertEqual(reason_sortings((4, ((0, 2), (0, 1, 3))), three), (((0, 1), (0, 3)), ((0, 2),)))
         self.assertIs(makes(LIST, LAST, (((0, 1),), ((1, 2),))), True)
         self.assertIs(makes(LIST, LAST, (((0, 1),),)), False)
         self.assertIs(makes(LIST, (), ()), True)

@@ -8,7 +8,7 @@ from outright import GAP, LIST, LOOP, ODD, PAIR, SMALL, THREE, changes, merged_a
 from listbylist.firstlast import first_last, fits_first_last
 from listbylist.joints import is_jointed, joint_of, own_hole
 from listbylist.listmerges import fits_lists, fits_own
-from listbylist.unfits import lets_unfit, unfit_own, unfit_pair
+from listbylist.unfits import bare_ring_pair, lets_unfit, unfit_own, unfit_pair
 
 RINGS = tuple(outright.ring_book(size) for size in (6, 7, 8, 10))
 # A bare ring that falls but once the one way round, and one with things tied to all of it or between its ends.
@@ -135,6 +135,15 @@ class Unfits(unittest.TestCase):
             self.hold(drawn_large(draw))
         self.hold(outright.band_book(10, 3))
         self.hold(outright.band_book(8, 6))
+
+    def test_whichever_ring(self):
+        """A pair that leads round is found for each bare ring, either way round, from whichever thing."""
+        for book in [book for book in SMALL if outright.rings(book)] + list(MORE[:2] + MORE[4:8]):
+            for ring in outright.rings(book)[::2]:
+                pair = bare_ring_pair(book, ring)
+                self.assertTrue(all(outright.is_sorting(book, one) for one in pair))
+                self.assertIs(fits_lists(book, pair), False)
+                self.assertIs(fits_own(book, pair), False)
 
     def test_papers_changed(self):
         met = set()

@@ -1,19 +1,17 @@
 """Even patterns."""
 from listbylist.bookkinds import are_tied
+from listbylist.choices import sides_by
 from listbylist.errors import need
 from listbylist.patternkinds import is_pattern
-from listbylist.patternlots import told_ropes
+from listbylist.patternlots import told_map
 from listbylist.ropekinds import is_rope
 
 
 def sides_in(book, rope, other):
     """The middle-ahead and the middle-behind rope of the choice with these two end ropes, or None."""
-    low, middle, below = rope
-    start, high, above = other
-    if start != middle or not are_tied(book, low, high):
+    if rope[1] != other[0] or not are_tied(book, rope[0], other[1]):
         return None
-    # In a well jointed book what is between low and high is between one of them and middle.
-    return ((low, high, below + (middle,) + above), (low, high, below + above))
+    return sides_by(rope, other)
 
 
 def sides_of(book, rope, other):
@@ -23,9 +21,8 @@ def sides_of(book, rope, other):
     return sides_in(book, rope, other)
 
 
-def first_uneven(book, pattern):
-    """A pair of end ropes that the pattern tells, but not both of their sides; None if there is none."""
-    told = {rope: True for rope in told_ropes(book, pattern)}
+def first_uneven(book, told):
+    """A pair of end ropes among the told ones, a dict, but not both of their sides; None if there is none."""
     for rope in told:
         for other in told:
             sides = sides_in(book, rope, other)
@@ -42,4 +39,4 @@ def is_even(book, pattern):
 def uneven_pair(book, pattern):
     """None if the pattern is even, else any pair of end ropes of a choice, both told, whose sides are not."""
     need(is_pattern(book, pattern), "pattern")
-    return first_uneven(book, pattern)
+    return first_uneven(book, told_map(book, pattern))

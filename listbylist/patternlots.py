@@ -44,6 +44,11 @@ def told_ropes(book, pattern):
     return tuple([rope for rope in ropes_of(book) if tells(near, pattern, rope)])
 
 
+def told_map(book, pattern):
+    """A dict with just the ropes that the pattern tells as its keys, ascending."""
+    return {rope: True for rope in told_ropes(book, pattern)}
+
+
 def pattern_ropes(book, pattern):
     """All ropes that the pattern tells, ascending."""
     need(is_pattern(book, pattern), "pattern")

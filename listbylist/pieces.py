@@ -18,8 +18,10 @@ def cut_in(near, rope, low, high):
 
 def is_cut(near, rope, other):
     """True if the first rope is a piece of the other one."""
-    things = things_in(near, other)
     low, high, _ = rope
+    if low < other[0] or other[1] < high:
+        return False
+    things = things_in(near, other)
     return low in things and high in things and cut_in(near, other, low, high) == rope
 
 

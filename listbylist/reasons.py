@@ -3,17 +3,16 @@ from listbylist.closures import closed, turned_by_some
 from listbylist.crossings import first_crossed
 from listbylist.errors import Crossed, need
 from listbylist.masks import leading_masks, near_masks
-from listbylist.opens import falls_of
 from listbylist.ropekinds import is_ropes
-from listbylist.showing import shown_at
+from listbylist.showing import open_ropes
 from listbylist.showings import least_turned
+from listbylist.sortkinds import is_sorting
 
 
 def reasons_of(book, sorting):
     """The reasons of the sorting: the ropes that it shows for its falls, ascending."""
-    falls = falls_of(book, sorting)
-    near, out = near_masks(book), leading_masks(book, sorting)
-    return tuple([shown_at(near, out, tie) for tie in falls])
+    need(is_sorting(book, sorting), "sorting")
+    return open_ropes(near_masks(book), leading_masks(book, sorting), True)
 
 
 def need_uncrossed(book, ropes):

@@ -1,18 +1,18 @@
 """The rise reasons of a sorting."""
 from listbylist.books import ties_of
 from listbylist.closures import closed, kept_by_some
+from listbylist.errors import need
 from listbylist.masks import leading_masks, near_masks
-from listbylist.opens import rises_of
 from listbylist.reasons import need_uncrossed
-from listbylist.showing import ahead_in
+from listbylist.showing import open_ropes
 from listbylist.showings import most_turned
+from listbylist.sortkinds import is_sorting
 
 
 def rise_reasons(book, sorting):
     """The rise reasons of the sorting: a rope for each rise, ascending."""
-    rises = rises_of(book, sorting)
-    near, out = near_masks(book), leading_masks(book, sorting)
-    return tuple([(low, high, ahead_in(near, out, low, high)) for low, high in rises])
+    need(is_sorting(book, sorting), "sorting")
+    return open_ropes(near_masks(book), leading_masks(book, sorting), False)
 
 
 def sorting_by_rises(book, ropes):

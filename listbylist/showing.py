@@ -2,7 +2,7 @@
 from listbylist.bookkinds import is_tie
 from listbylist.books import between_in
 from listbylist.errors import need
-from listbylist.masks import leading_masks, near_masks
+from listbylist.masks import leading_masks, near_masks, things_of
 from listbylist.ropekinds import behind_in, is_rope
 from listbylist.sortkinds import is_sorting
 
@@ -41,6 +41,18 @@ def shown_at(near, out, tie):
     low, high = tie
     rope = (low, high, ahead_in(near, out, low, high))
     return rope if is_shown(near, out, rope) else None
+
+
+def open_ropes(near, out, turned):
+    """The ropes of the falls, or, if turned is False, of the rises, ascending, in a book without a bare ring."""
+    found = []
+    for low in range(len(near)):
+        for high in things_of((near[low] >> low) << low):
+            ahead, behind = (high, low) if turned else (low, high)
+            # There a tie is open exactly if nothing that the end ahead leads to leads to the end behind.
+            if out[ahead] >> behind & 1 and not out[ahead] & near[behind] & ~out[behind]:
+                found.append((low, high, ahead_in(near, out, low, high)))
+    return tuple(found)
 
 
 def rope_at(book, sorting, tie):

@@ -2,10 +2,10 @@
 from listbylist.bookkinds import is_tie
 from listbylist.errors import need
 from listbylist.exchanging import flipped
-from listbylist.masks import near_masks
+from listbylist.masks import leading_masks, near_masks
 from listbylist.patternkinds import is_pattern
 from listbylist.patternlots import tells
-from listbylist.reasons import reasons_of
+from listbylist.showing import open_ropes
 from listbylist.sortkinds import is_sorting
 
 
@@ -15,10 +15,16 @@ def need_pattern(book, sorting, pattern):
     need(is_pattern(book, pattern), "pattern")
 
 
+def told_open(book, sorting, pattern, turned):
+    """The falls, or, if turned is False, the rises by ropes that the pattern tells, ascending, without a check."""
+    near = near_masks(book)
+    ropes = open_ropes(near, leading_masks(book, sorting), turned)
+    return tuple([rope[:2] for rope in ropes if tells(near, pattern, rope)])
+
+
 def told_falls(book, sorting, pattern):
     """The falls of the sorting whose reasons the pattern tells, ascending, without a check of either."""
-    near = near_masks(book)
-    return tuple([rope[:2] for rope in reasons_of(book, sorting) if tells(near, pattern, rope)])
+    return told_open(book, sorting, pattern, True)
 
 
 def falls_in(book, sorting, pattern):
@@ -32,16 +38,31 @@ def is_end(book, sorting, pattern):
     return len(falls_in(book, sorting, pattern)) == 0
 
 
-def first_steps(book, sorting, pattern):
-    """The pair of the steps that exchange the first such fall as long as there is one, and the end reached."""
+def first_ways(book, sorting, pattern, turned):
+    """The pair of the steps that exchange the first of told_open as long as there is one, and what is reached."""
     steps = []
     reached = sorting
-    falls = told_falls(book, reached, pattern)
-    while falls:
-        steps.append(falls[0])
-        reached = flipped(reached, falls[0])
-        falls = told_falls(book, reached, pattern)
+    ties = told_open(book, reached, pattern, turned)
+    while ties:
+        steps.append(ties[0])
+        reached = flipped(reached, ties[0])
+        ties = told_open(book, reached, pattern, turned)
     return tuple(steps), reached
+
+
+def first_steps(book, sorting, pattern):
+    """The pair of the steps that exchange the first told fall as long as there is one, and the end reached."""
+    return first_ways(book, sorting, pattern, True)
+
+
+def end_in(book, sorting, pattern):
+    """The end reached so, without a check of either."""
+    return first_steps(book, sorting, pattern)[1]
+
+
+def top_in(book, sorting, pattern):
+    """What is reached by exchanging the first told rise as long as there is one, without a check of either."""
+    return first_ways(book, sorting, pattern, False)[1]
 
 
 def undo_first(book, sorting, pattern):
@@ -53,7 +74,7 @@ def undo_first(book, sorting, pattern):
 def end_first(book, sorting, pattern):
     """The end reached so."""
     need_pattern(book, sorting, pattern)
-    return first_steps(book, sorting, pattern)[1]
+    return end_in(book, sorting, pattern)
 
 
 def undone_by(book, sorting, pattern, steps):

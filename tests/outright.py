@@ -547,6 +547,88 @@ def each_word(draw, book):
         yield drawn_pattern(draw, book)
 
 
+RUNGS = ("even", "greatest", "least", "closed")
+
+
+@lru_cache(None)
+def asks(book, rung):
+    """All (given, missing): where the ropes given, end ropes of one choice, are told, the rung asks what is missing."""
+    found = set()
+    for low, high, ahead_rope, behind_rope in choices(book):
+        found |= set({
+            "even": (((low, high), ahead_rope), ((low, high), behind_rope)),
+            "greatest": (((low,), ahead_rope), ((high,), behind_rope)),
+            "least": (((low,), behind_rope), ((high,), ahead_rope)),
+            "closed": tuple(product(((low,), (high,)), (ahead_rope, behind_rope))),
+        }[rung])
+    return tuple(sorted(found))
+
+
+def on_rung(book, found, rung):
+    """True if these told ropes are on the rung, by all choices."""
+    found = set(found)
+    return all(missing in found for given, missing in asks(book, rung) if found.issuperset(given))
+
+
+@lru_cache(None)
+def grown_told(book, some, rung):
+    """The ropes, and what the rung asks with them, until it asks nothing more."""
+    found = set(some)
+    while True:
+        more = {missing for given, missing in asks(book, rung) if found.issuperset(given)} - found
+        if not more:
+            return tuple(sorted(found))
+        found |= more
+
+
+def rises_in(book, turned, pattern):
+    """The rises whose exchange is by a rope that the pattern tells."""
+    found = told_ropes(book, pattern)
+    return tuple(
+        tie for tie in rises(book, turned)
+        if any(rope[:2] == tie and rope in found for rope in reasons(book, flip(turned, tie))))
+
+
+@lru_cache(None)
+def last_ones(book, pattern, up):
+    """For each sorting the ascending tuple of all ends, or tops, to which undoing, or redoing, leads."""
+    found = {}
+    for one in sorted(sortings(book), key=len, reverse=up):
+        nexts = [flip(one, tie) for tie in (rises_in if up else falls_in)(book, one, pattern)]
+        found[one] = tuple(sorted({last for other in nexts for last in found[other]})) if nexts else (one,)
+    return found
+
+
+def end_of(book, turned, pattern):
+    """The one end, by all undoing."""
+    (end,) = last_ones(book, pattern, False)[turned]
+    return end
+
+
+def top_of(book, turned, pattern):
+    """The one top, by all redoing."""
+    (top,) = last_ones(book, pattern, True)[turned]
+    return top
+
+
+def rung_patterns(draw, book, many=2):
+    """Patterns on each rung and off each, told by few ropes and what is asked with them, besides those of each word."""
+    yield from each_word(draw, book)
+    every = ropes(book)
+    for rung in RUNGS:
+        for _ in range(many):
+            some = tuple(sorted(draw.sample(every, min(draw.choice((1, 1, 2, 3)), len(every)))))
+            yield ("ropes", grown_told(book, some, rung))
+            yield ("not", ("ropes", grown_told(book, some, rung)))
+    for _ in range(2 * many):
+        yield ("ropes", tuple(sorted(draw.sample(every, draw.randrange(len(every) + 1)))))
+
+
+def even_patterns(draw, book, many=2):
+    """Those of them that are even."""
+    return [one for one in rung_patterns(draw, book, many) if even(book, one)]
+
+
 def is_book(value):
     if type(value) is not tuple or len(value) != 2:
         return False

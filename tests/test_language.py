@@ -89,6 +89,34 @@ INTERFACE = {
     "corners": ("corner_of(book, sorting, tie, other)", "corner_ropes(book, sorting, tie, other)"),
     "evens": ("sides_of(book, rope, other)", "is_even(book, pattern)", "uneven_pair(book, pattern)"),
     "unlikes": ("unlike_ends(book, pattern)", "lets_unlike(book, pattern, thing)"),
+    "rungs": (
+        "is_rung(thing)", "on_rung(book, pattern, rung)", "rungs_of(book, pattern)",
+        "rung_fault(book, pattern, rung)"),
+    "faultchecker": ("lets_fault(book, pattern, rung, thing)",),
+    "oversides": ("over_ropes(book, rope, rung)",),
+    "growing": (
+        "least_on(book, ropes, rung)", "falls_with(book, ropes, rung)", "most_without(book, ropes, rung)"),
+    "orderfaults": ("order_fault(book, pattern)", "lets_order(book, pattern, thing)"),
+    "mergefaults": ("merge_fault(book, pattern, rung)", "lets_merge(book, pattern, rung, thing)"),
+    "viewmerges": (
+        "even_end(book, sorting, pattern)", "least_in(book, sortings, pattern)", "greatest_in(book, sortings, pattern)"),
+    "tops": (
+        "alike_by(book, sorting, other, pattern)", "is_top(book, sorting, pattern)", "top_of(book, sorting, pattern)",
+        "alike_sortings(book, sorting, pattern)"),
+    "viewpartings": (
+        "parting_of(book, sorting, other, pattern)", "lets_parting(book, sorting, other, pattern, thing)"),
+    "finests": (
+        "step_ropes(book, sorting, other)", "finest_alike(book, sorting, other, rung)", "base_ties(book)",
+        "base_turned(book, sorting)"),
+    "numbers": (
+        "sorting_count(book)", "places_of(book, sorting)", "sorting_by_places(book, places)",
+        "number_of(book, sorting)", "sorting_at(book, number)", "next_sorting(book, sorting)"),
+    "listends": (
+        "list_book(book, place)", "cut_pattern(book, place, pattern)", "list_ends(book, place, pattern)",
+        "end_order(book, place, order, pattern)", "end_by_lists(book, sorting, pattern)",
+        "top_by_lists(book, sorting, pattern)"),
+    "endcounts": ("ends_count(book, pattern)", "seam_counts(book, place, lot, pattern)"),
+    "searchtrees": ("is_tree(thing)", "tree_of(order)", "own_order(tree)", "tree_cut(tree, lot)"),
 }
 CLASSES = {
     ("bookclasses", "Book"): (
@@ -106,13 +134,17 @@ CLASSES = {
     ("undoclasses", "Undoing"): (
         "__init__(self, book, pattern)", "__eq__(self, other)", "even(self)", "ropes(self)", "last(self, sorting)",
         "falls(self, sorting)", "ends(self)", "told(self)"),
+    ("viewclasses", "View"): (
+        "__init__(self, book, pattern)", "__eq__(self, other)", "last(self, sorting)", "top(self, sorting)",
+        "alike(self, sorting, other)", "least(self, *sortings)", "greatest(self, *sortings)", "told(self)"),
 }
 GENERATORS = (("alls", "all_sortings"), ("spans", "between_sortings"))
 CALLED = (
-    "len range enumerate zip min max sum abs sorted reversed int str bool list tuple dict set isinstance repr any all"
+    "len range enumerate zip min max sum abs sorted reversed int str bool list tuple dict set isinstance repr any all "
+    "divmod"
 ).split()
 METHODS = (
-    "append endswith extend index isascii isdigit items join setdefault split startswith count bit_length"
+    "append endswith extend get index isascii isdigit items join pop setdefault split startswith count bit_length values"
 ).split()
 BARRED = (
     "register mro elements open input law type typing enum Enum Flag Generic Protocol ABC NamedTuple TypedDict"
@@ -195,14 +227,26 @@ class Files(unittest.TestCase):
             for function in functions_of(tree):
                 self.assertLessEqual(function.end_lineno - function.lineno + 1, 40, function.name)
 
+    def plain(self, value):
+        """True if a value at module level is a string, a tuple of such, or a dict of strings and such."""
+        if isinstance(value, ast.Dict):
+            return all(isinstance(one, ast.Constant) for one in value.keys) and all(
+                isinstance(one, ast.Tuple) and self.plain(one) for one in value.values)
+        if isinstance(value, ast.Tuple):
+            return all(isinstance(one, ast.Constant) and isinstance(one.value, str) for one in value.elts)
+        return isinstance(value, ast.Constant) and isinstance(value.value, (str, int))
+
     def test_module_level(self):
         for name, _, tree in self.sources():
             self.assertTrue(ast.get_docstring(tree), name)
             bound = []
             for node in tree.body[1:]:
-                self.assertIsInstance(node, (ast.ImportFrom, ast.FunctionDef, ast.ClassDef), name)
+                self.assertIsInstance(node, (ast.ImportFrom, ast.FunctionDef, ast.ClassDef, ast.Assign), name)
                 if isinstance(node, ast.ImportFrom):
                     bound += [one.asname or one.name for one in node.names]
+                elif isinstance(node, ast.Assign):
+                    bound += [one.id for one in node.targets]
+                    self.assertTrue(self.plain(node.value), name)
                 else:
                     bound.append(node.name)
             self.assertEqual(len(bound), len(set(bound)), name)
@@ -218,7 +262,9 @@ class Files(unittest.TestCase):
                 package, _, file = node.module.partition(".")
                 self.assertEqual((package, node.level), ("listbylist", 0), name)
                 needs[name[:-3]].add(file)
-                own = [one.name for one in tree_of(file + ".py").body if hasattr(one, "name")]
+                body = tree_of(file + ".py").body
+                own = [one.name for one in body if hasattr(one, "name")]
+                own += [one.targets[0].id for one in body if isinstance(one, ast.Assign)]
                 for one in node.names:
                     self.assertIn(one.name, own, name)
                     self.assertIsNone(one.asname)
@@ -236,6 +282,8 @@ class Files(unittest.TestCase):
                     taken |= {one.name for one in node.names}
                 elif isinstance(node, ast.ClassDef):
                     taken.add(node.name)
+                elif isinstance(node, ast.Assign):
+                    self.assertNotIn(node.targets[0].id, taken, name)
                 elif isinstance(node, ast.FunctionDef):
                     self.assertNotIn(node.name, taken, name)
             for function in functions_of(tree):

@@ -7,10 +7,11 @@ import unittest
 import outright
 from outright import GAP, LIST, LOOP, ODD, PAIR, THREE, refused
 from listbylist import (
-    alls, bookchanges, books, closures, corners, crossings, endings, evens, exchanging, firstlast, fulllists, joints,
-    listmerges, listorders, makings, merging, noleasts, opens, origins, patternlots, patterntexts, pieces, reasons,
-    rising, ropekinds, ropetexts, rounds, showing, showings, sortlines, sorttexts, sortturns, spans, stepping, tried,
-    turning, undochecker, undoing, unlikes, uppers, ways, whychecker, whyrows)
+    alls, bookchanges, books, closures, corners, crossings, endcounts, endings, evens, exchanging, faultchecker, finests,
+    firstlast, fulllists, growing, joints, listends, listmerges, listorders, makings, mergefaults, merging, noleasts,
+    numbers, opens, orderfaults, origins, oversides, patternlots, patterntexts, pieces, reasons, rising, ropekinds,
+    ropetexts, rounds, rungs, showing, showings, sortlines, sorttexts, sortturns, spans, stepping, tops, tried, turning,
+    undochecker, undoing, unlikes, uppers, viewmerges, viewpartings, ways, whychecker, whyrows)
 
 ROUND = ((0, 1), (1, 2))
 MORE = ODD + (
@@ -29,6 +30,9 @@ ROPED = MORE + (
     ("ropes", ()), ("above", ()), ("ropes", ((0, 1, ()),)), ("above", ((0, 1, ()),)), ("ropes", [(0, 1, ())]), ("ropes",),
     ("above", ((0, True, ()),)), ("ropes", ((0, 2, ()), (0, 1, ()))), ("not", ("all",)), ("not", "all"), ("not",),
     ("both", ("all",), ("amid", 1)), ("either", ("none",), ("amid", False)), ("both", ("all",)), (("all",),),
+    "even", "greatest", "least", "closed", "Even", "most", ("even",), ("not", ("ropes", ((0, 1, ()),))),
+    ("ropes", ((0, 1, ()), (1, 2, ()))), (2, 1, 0), (1, 0), (1, 3, 4), (4, 3, 1), (0, 2, 1), (2, True, 0), (0, 0, 0), (0, 1, 2),
+    (0, 1, True), (0, 0, 0, 0), (0, 1, 2, 2), (0, 1, 2, 3), (0, 0), (0,), (0, 0, 0, 0, 1), 17, 18, 11,
 )
 
 # What each parameter may be: given the book, the values ahead by name, and the value.
@@ -64,7 +68,23 @@ STATED = {
     "fall_other": lambda book, told, value: (
         outright.is_tie(book, value) and value in outright.falls(book, told["sorting"]) and value != told["tie"]),
     "undoing": lambda book, told, value: outright.undoes(book, told["sorting"], told["pattern"], value),
+    "rung": lambda book, told, value: type(value) is str and value in outright.RUNGS,
+    "sided": lambda book, told, value: type(value) is str and value in outright.RUNGS[1:],
+    "merging": lambda book, told, value: type(value) is str and value in ("greatest", "least"),
+    "plain": lambda book, told, value: outright.is_pattern(book, value) and not {"ropes", "above", "not"} & words_in(value),
+    "order": lambda book, told, value: (
+        type(value) is tuple and all(map(outright.is_int, value)) and tuple(sorted(value)) == outright.full(book)[told["place"]]),
+    "lot_there": lambda book, told, value: (
+        outright.is_lot(book, value) and set(value) <= set(outright.full(book)[told["place"]])),
+    "places": lambda book, told, value: type(value) is tuple and all(map(outright.is_int, value)) and any(
+        value == numbers.places_of(book, one) for one in outright.sortings(book)),
+    "number": lambda book, told, value: outright.is_below(len(outright.sortings(book)), value),
 }
+
+
+def words_in(pattern):
+    """The words used in a pattern."""
+    return {pattern[0]}.union(*(words_in(part) for part in pattern[1:] if part and type(part) is tuple and type(part[0]) is str))
 
 
 def all_of(call):
@@ -134,7 +154,8 @@ CALLS = (
     (spans.agreed_ties, (("sortings", "sortings"),)),
 )
 SORTED = ("sorting", "sorting")
-UNDONE = (SORTED, ("pattern", "pattern"))
+PATTERN = ("pattern", "pattern")
+UNDONE = (SORTED, PATTERN)
 JOINTED_CALLS = (
     (ropekinds.behind_of, (("rope", "rope"),)),
     (ropekinds.middle_of, (("rope", "rope"),)),
@@ -187,6 +208,43 @@ JOINTED_CALLS = (
     (evens.uneven_pair, (("pattern", "pattern"),)),
     (unlikes.unlike_ends, (("pattern", "pattern"),)),
     (unlikes.lets_unlike, (("pattern", "pattern"),)),
+    (rungs.on_rung, (PATTERN, ("rung", "rung"))),
+    (rungs.rungs_of, (PATTERN,)),
+    (rungs.rung_fault, (PATTERN, ("rung", "rung"))),
+    (faultchecker.lets_fault, (PATTERN, ("rung", "rung"))),
+    (oversides.over_ropes, (("rope", "rope"), ("rung", "sided"))),
+    (growing.least_on, (("ropes", "ropes"), ("rung", "rung"))),
+    (growing.falls_with, (("ropes", "ropes"), ("rung", "rung"))),
+    (growing.most_without, (("ropes", "ropes"), ("rung", "sided"))),
+    (orderfaults.order_fault, (PATTERN,)),
+    (orderfaults.lets_order, (PATTERN,)),
+    (mergefaults.merge_fault, (PATTERN, ("rung", "merging"))),
+    (mergefaults.lets_merge, (PATTERN, ("rung", "merging"))),
+    (viewmerges.even_end, UNDONE),
+    (viewmerges.least_in, (("sortings", "sortings"), PATTERN)),
+    (viewmerges.greatest_in, (("sortings", "sortings"), PATTERN)),
+    (tops.alike_by, (SORTED, ("other", "sorting"), PATTERN)),
+    (tops.is_top, UNDONE),
+    (tops.top_of, UNDONE),
+    (tops.alike_sortings, UNDONE),
+    (viewpartings.parting_of, (SORTED, ("other", "sorting"), PATTERN)),
+    (viewpartings.lets_parting, (SORTED, ("other", "sorting"), PATTERN)),
+    (finests.step_ropes, (SORTED, ("other", "sorting"))),
+    (finests.finest_alike, (SORTED, ("other", "sorting"), ("rung", "rung"))),
+    (finests.base_turned, (SORTED,)),
+    (numbers.places_of, (SORTED,)),
+    (numbers.sorting_by_places, (("places", "places"),)),
+    (numbers.number_of, (SORTED,)),
+    (numbers.sorting_at, (("number", "number"),)),
+    (numbers.next_sorting, (SORTED,)),
+    (listends.list_book, (("place", "place"),)),
+    (listends.cut_pattern, (("place", "place"), PATTERN)),
+    (listends.list_ends, (("place", "place"), PATTERN)),
+    (listends.end_order, (("place", "place"), ("order", "order"), PATTERN)),
+    (listends.end_by_lists, UNDONE),
+    (listends.top_by_lists, UNDONE),
+    (endcounts.ends_count, (("pattern", "plain"),)),
+    (endcounts.seam_counts, (("place", "place"), ("lot", "lot_there"), ("pattern", "plain"))),
 )
 BOOKS = (LIST, PAIR, GAP, LOOP, THREE, (1, ()), (2, ((0, 1),)), (5, ((0, 2), (1, 3, 4))))
 JOINTED_BOOKS = (LIST, PAIR, THREE, (1, ()), (2, ((0, 1),)), (5, ((0, 2), (1, 3, 4))))

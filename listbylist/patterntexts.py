@@ -57,8 +57,41 @@ def due_of(numbers, fields, at):
     return number
 
 
+def due_from(least, fields, at):
+    """The number at this place, where any that is at least this can stand."""
+    number = due_number(fields, at)
+    if number < least:
+        raise InvalidText(0, at)
+    return number
+
+
+def due_within(least, most, fields, at):
+    """The number at this place, where any that is at least least and below most can stand."""
+    number = due_from(least, fields, at)
+    if number >= most:
+        raise InvalidText(0, at)
+    return number
+
+
+def read_any_rope_at(fields, at):
+    """The pair of the rope of a book of one list of all numbers that begins at this place and the place behind it."""
+    low = due_number(fields, at)
+    high = due_from(low + 1, fields, at + 1)
+    many = due_within(0, high - low, fields, at + 2)
+    ahead = []
+    while len(ahead) < many:
+        least = ahead[-1] + 1 if ahead else low + 1
+        ahead.append(due_within(least, high, fields, at + 3 + len(ahead)))
+    return (low, high, tuple(ahead)), at + 3 + many
+
+
 def read_rope_at(near, fields, at):
-    """The pair of the rope that begins at this place and the place behind it."""
+    """The pair of the rope that begins at this place and the place behind it.
+
+    Here and in what follows near is None for a book of one list of all numbers.
+    """
+    if near is None:
+        return read_any_rope_at(fields, at)
     low = due_of(list(range(len(near))), fields, at)
     high = due_of([thing for thing in things_of(near[low]) if thing > low], fields, at + 1)
     left = between_in(near, low, high)

@@ -2,7 +2,7 @@
 from listbylist.bookkinds import is_tie
 from listbylist.books import between_in
 from listbylist.errors import need
-from listbylist.kinds import is_lot, is_rising
+from listbylist.kinds import is_lot, is_number, is_rising
 from listbylist.masks import near_masks
 
 
@@ -20,6 +20,21 @@ def is_rope(book, thing):
 def is_ropes(book, thing):
     """True if thing is an ascending tuple of ropes of the book."""
     return isinstance(thing, tuple) and all([is_rope(book, rope) for rope in thing]) and is_rising(thing)
+
+
+def is_any_rope(thing):
+    """True if thing is a rope of some book."""
+    if not isinstance(thing, tuple) or len(thing) != 3:
+        return False
+    low, high, ahead = thing
+    if not is_number(low) or not is_number(high) or low >= high:
+        return False
+    return is_lot(high, ahead) and all([one > low for one in ahead])
+
+
+def are_any_ropes(thing):
+    """True if thing is an ascending tuple of ropes of some book."""
+    return isinstance(thing, tuple) and all([is_any_rope(rope) for rope in thing]) and is_rising(thing)
 
 
 def middle_in(near, rope):

@@ -26,19 +26,23 @@ def read_thing(things, end, fields, line, at):
     return found[0]
 
 
-def rope_in_line(book, text, line):
-    """The rope whose rope_line the text is; the number of the line is told with an error."""
-    fields = text.split(" ")
-    low = read_thing(list(range(book[0])), "", fields, line, 0)
+def rope_in_fields(book, fields, start, line):
+    """The rope in the fields from start on; the number of the line is told with an error."""
+    low = read_thing(list(range(book[0])), "", fields, line, start)
     highs = [thing for thing in range(low + 1, book[0]) if are_tied(book, low, thing)]
-    high = read_thing(highs, ":", fields, line, 1)
+    high = read_thing(highs, ":", fields, line, start + 1)
     left = between_in(near_masks(book), low, high)
     ahead = []
-    for at in range(2, len(fields)):
+    for at in range(start + 2, len(fields)):
         thing = read_thing(left, "", fields, line, at)
         ahead.append(thing)
         left = [other for other in left if other > thing]
     return (low, high, tuple(ahead))
+
+
+def rope_in_line(book, text, line):
+    """The rope whose rope_line the text is; the number of the line is told with an error."""
+    return rope_in_fields(book, text.split(" "), 0, line)
 
 
 def read_rope(book, text):

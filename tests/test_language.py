@@ -117,6 +117,18 @@ INTERFACE = {
         "top_by_lists(book, sorting, pattern)"),
     "endcounts": ("ends_count(book, pattern)", "seam_counts(book, place, lot, pattern)"),
     "searchtrees": ("is_tree(thing)", "tree_of(order)", "own_order(tree)", "tree_cut(tree, lot)"),
+    "treeturns": ("tree_turned(tree, here, there)", "tree_turned_back(tree, here, there)"),
+    "gluetrees": ("trees_of(book, sorting)", "sorting_by_trees(book, trees)", "tree_count(book)"),
+    "leaving": ("loss_of(book, other)", "hole_of(book, lot)", "filled(book, lot)"),
+    "cutpairs": ("cut_pair(book, lot)", "lets_cut(book, lot, thing)"),
+    "bases": ("is_base(book, sorting)", "base_gap(book, sorting)", "lets_base_gap(book, sorting, thing)"),
+    "liveevents": ("is_event(thing)", "is_log(thing)"),
+    "barring": ("reason_of(book, branches, event)",),
+    "deeds": ("deed_of(book, branches, event)",),
+    "replaying": ("replayed(size, lists, log)", "cut_log(log, many)"),
+    "journals": ("days_of(size, lists, log)",),
+    "eventtexts": ("event_line(event)", "log_text(log)", "read_event(text)", "read_log(text)"),
+    "desk": ("desk_line(live, text)",),
 }
 CLASSES = {
     ("bookclasses", "Book"): (
@@ -137,6 +149,29 @@ CLASSES = {
     ("viewclasses", "View"): (
         "__init__(self, book, pattern)", "__eq__(self, other)", "last(self, sorting)", "top(self, sorting)",
         "alike(self, sorting, other)", "least(self, *sortings)", "greatest(self, *sortings)", "told(self)"),
+    ("glueclasses", "Glue"): (
+        "__init__(self, book, pattern)", "__eq__(self, other)", "total(self)", "ends(self, place)", "last(self, sorting)",
+        "number(self, sorting)", "told(self)"),
+    ("liveasks", "LiveAsks"): (
+        "book_now(self)", "branches_now(self)", "view_now(self)", "sorting_now(self, branch)", "orders_now(self, branch)",
+        "reasons_now(self, branch)", "same(self, branch, other)", "apart(self, branch, other)", "who_has(self, rope)",
+        "sortings_now(self)", "harmless(self, listed)", "tally(self)"),
+    ("live", "Desk"): (
+        "__init__(self, size, *lists)", "__eq__(self, other)", "add_thing(self)", "add_list(self, things)",
+        "drop_list(self, listed)", "add_branch(self, branch)", "exchange(self, branch, low, high)",
+        "follow(self, branch, line)", "least(self, branch, other)", "greatest(self, branch, other)",
+        "undo_by(self, branch, pattern)", "turn(self, branch)", "look(self, pattern)", "day(self)", "go(self, event)",
+        "barred(self, event)", "do_all(self, events, keep=False)", "undo(self, steps=1)", "tried(self, events)", "log(self)"),
+}
+# Errors and their fields; each but the first is derived from the one behind it.
+ERRORS = {
+    "ListsError": (ValueError, None), "PaperError": ("ListsError", None), "BookError": ("ListsError", None),
+    "LiveError": ("ListsError", None), "TextError": ("ListsError", None),
+    "InvalidPaper": ("PaperError", "word at"), "NotUsable": ("BookError", "word at"), "BareRing": ("BookError", "ring"),
+    "Unjointed": ("BookError", "paper"), "InRound": ("BookError", "things"), "Quarrel": ("BookError", "tie"),
+    "Blocked": ("BookError", "way"), "Crossed": ("BookError", "rope other"), "OffRung": ("BookError", "rung given missing"),
+    "Unglued": ("BookError", "place other"), "InvalidEvent": ("LiveError", "event reason"), "NothingToUndo": ("LiveError", "steps"),
+    "InvalidText": ("TextError", "line field"), "InvalidRow": ("TextError", "row"),
 }
 GENERATORS = (("alls", "all_sortings"), ("spans", "between_sortings"))
 CALLED = (
@@ -146,6 +181,7 @@ CALLED = (
 METHODS = (
     "append endswith extend get index isascii isdigit items join pop setdefault split startswith count bit_length values"
 ).split()
+OWN_METHODS = [head.split("(")[0] for heads in CLASSES.values() for head in heads] + ["_both_now"]
 BARRED = (
     "register mro elements open input law type typing enum Enum Flag Generic Protocol ABC NamedTuple TypedDict"
 ).split()
@@ -192,9 +228,23 @@ class Interface(unittest.TestCase):
         for (file, name), heads in CLASSES.items():
             module = importlib.import_module("listbylist." + file)
             made = vars(module)[name]
-            self.assertEqual((made.__module__, made.__bases__), (module.__name__, (object,)))
+            base = "LiveAsks" if name == "Desk" else "object"
+            self.assertEqual((made.__module__, [one.__name__ for one in made.__bases__]), (module.__name__, [base]))
             for head in heads:
                 self.same_head(made, head)
+
+    def test_errors(self):
+        module = vars(importlib.import_module("listbylist.errors"))
+        for name, (base, fields) in ERRORS.items():
+            self.assertEqual(module[name].__bases__, (module.get(base, base),))
+            if fields is not None:
+                parameters = list(inspect.signature(module[name]).parameters)
+                self.assertEqual(parameters, fields.split())
+                values = [[k] for k in range(len(parameters))]
+                made = module[name](**dict(zip(parameters, values)))
+                self.assertTrue(all(getattr(made, one) is value for one, value in zip(parameters, values)))
+        classes = {name for name, value in module.items() if inspect.isclass(value)}
+        self.assertEqual(classes, set(ERRORS))
 
     def test_generators(self):
         for file, name in GENERATORS:
@@ -228,10 +278,10 @@ class Files(unittest.TestCase):
                 self.assertLessEqual(function.end_lineno - function.lineno + 1, 40, function.name)
 
     def plain(self, value):
-        """True if a value at module level is a string, a tuple of such, or a dict of strings and such."""
+        """True if a value at module level is a string, a number, a tuple of strings, or a dict of strings and such."""
         if isinstance(value, ast.Dict):
             return all(isinstance(one, ast.Constant) for one in value.keys) and all(
-                isinstance(one, ast.Tuple) and self.plain(one) for one in value.values)
+                not isinstance(one, ast.Dict) and self.plain(one) for one in value.values)
         if isinstance(value, ast.Tuple):
             return all(isinstance(one, ast.Constant) and isinstance(one.value, str) for one in value.elts)
         return isinstance(value, ast.Constant) and isinstance(value.value, (str, int))
@@ -291,12 +341,15 @@ class Files(unittest.TestCase):
 
     def test_nodes(self):
         barred = (
-            ast.GeneratorExp, ast.Try, ast.Global, ast.Nonlocal, ast.With, ast.AsyncFunctionDef, ast.Await, ast.Set,
+            ast.GeneratorExp, ast.Global, ast.Nonlocal, ast.With, ast.AsyncFunctionDef, ast.Await, ast.Set,
             ast.SetComp, ast.AugAssign, ast.AnnAssign, ast.Lambda, ast.NamedExpr, ast.Delete, ast.Div, ast.Match,
         )
         for name, _, tree in self.sources():
             for node in ast.walk(tree):
                 self.assertNotIsInstance(node, barred, (name, getattr(node, "lineno", None)))
+                if isinstance(node, ast.Try):
+                    self.assertEqual((node.finalbody, node.orelse), ([], []), name)
+                    self.assertTrue(all(handler.type.id in ERRORS for handler in node.handlers), name)
                 if isinstance(node, (ast.FunctionDef, ast.ClassDef)):
                     self.assertEqual(node.decorator_list, [], name)
                 if isinstance(node, ast.Constant):
@@ -318,7 +371,7 @@ class Files(unittest.TestCase):
                     continue
                 self.assertEqual(node.keywords, [], name)
                 if isinstance(node.func, ast.Attribute):
-                    self.assertIn(node.func.attr, METHODS, (name, node.lineno))
+                    self.assertIn(node.func.attr, METHODS + OWN_METHODS, (name, node.lineno))
                 else:
                     self.assertIn(node.func.id, own | set(CALLED), (name, node.lineno))
                     if node.func.id == "set":

@@ -7,9 +7,9 @@ import unittest
 import outright
 from outright import GAP, LIST, LOOP, ODD, PAIR, THREE, refused
 from listbylist import (
-    alls, bookchanges, books, closures, corners, crossings, endcounts, endings, evens, exchanging, faultchecker, finests,
-    firstlast, fulllists, growing, joints, listends, listmerges, listorders, makings, mergefaults, merging, noleasts,
-    numbers, opens, orderfaults, origins, oversides, patternlots, patterntexts, pieces, reasons, rising, ropekinds,
+    alls, barring, bases, bookchanges, books, closures, corners, crossings, cutpairs, deeds, endcounts, endings, evens,
+    exchanging, faultchecker, finests, firstlast, fulllists, gluetrees, growing, joints, leaving, listends, listmerges,
+    listorders, makings, mergefaults, merging, noleasts, numbers, opens, orderfaults, origins, oversides, patternlots, patterntexts, pieces, reasons, rising, ropekinds,
     ropetexts, rounds, rungs, showing, showings, sortlines, sorttexts, sortturns, spans, stepping, tops, tried, turning,
     undochecker, undoing, unlikes, uppers, viewmerges, viewpartings, ways, whychecker, whyrows)
 
@@ -33,6 +33,8 @@ ROPED = MORE + (
     "even", "greatest", "least", "closed", "Even", "most", ("even",), ("not", ("ropes", ((0, 1, ()),))),
     ("ropes", ((0, 1, ()), (1, 2, ()))), (2, 1, 0), (1, 0), (1, 3, 4), (4, 3, 1), (0, 2, 1), (2, True, 0), (0, 0, 0), (0, 1, 2),
     (0, 1, True), (0, 0, 0, 0), (0, 1, 2, 2), (0, 1, 2, 3), (0, 0), (0,), (0, 0, 0, 0, 1), 17, 18, 11,
+    (3, ((0, 2),)), (4, ((1, 3),)), (1, ()), (2, ()), (5, ((1, 4),)), (5, ((0, 1),)), ("day",), ("turn", 0), ("drop", 0),
+    ("exchange", 0, 0, 1), ("undo", 0, ("ahead", 1)),
 )
 
 # What each parameter may be: given the book, the values ahead by name, and the value.
@@ -79,6 +81,9 @@ STATED = {
     "places": lambda book, told, value: type(value) is tuple and all(map(outright.is_int, value)) and any(
         value == numbers.places_of(book, one) for one in outright.sortings(book)),
     "number": lambda book, told, value: outright.is_below(len(outright.sortings(book)), value),
+    "book_within": lambda book, told, value: (
+        outright.is_book(value) and value[0] == book[0] and set(outright.ties(value)) <= set(outright.ties(book))),
+    "any": lambda book, told, value: True,
 }
 
 
@@ -245,6 +250,17 @@ JOINTED_CALLS = (
     (listends.top_by_lists, UNDONE),
     (endcounts.ends_count, (("pattern", "plain"),)),
     (endcounts.seam_counts, (("place", "place"), ("lot", "lot_there"), ("pattern", "plain"))),
+    (gluetrees.trees_of, (SORTED,)),
+    (leaving.loss_of, (("other", "book_within"),)),
+    (leaving.hole_of, (("lot", "lot"),)),
+    (leaving.filled, (("lot", "lot"),)),
+    (cutpairs.cut_pair, (("lot", "some"),)),
+    (cutpairs.lets_cut, (("lot", "some"),)),
+    (bases.is_base, (SORTED,)),
+    (bases.base_gap, (SORTED,)),
+    (bases.lets_base_gap, (SORTED,)),
+    (barring.reason_of, (("branches", "sortings"), ("event", "any"))),
+    (deeds.deed_of, (("branches", "sortings"), ("event", "any"))),
 )
 BOOKS = (LIST, PAIR, GAP, LOOP, THREE, (1, ()), (2, ((0, 1),)), (5, ((0, 2), (1, 3, 4))))
 JOINTED_BOOKS = (LIST, PAIR, THREE, (1, ()), (2, ((0, 1),)), (5, ((0, 2), (1, 3, 4))))

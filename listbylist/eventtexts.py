@@ -2,8 +2,7 @@
 from listbylist.errors import InvalidRow, InvalidText, need
 from listbylist.liveevents import EVENT_FIELDS, fields_of, is_event
 from listbylist.patternkinds import is_any_pattern
-from listbylist.patterntexts import (
-    due_field, due_from, due_number, due_within, pattern_fields, read_pattern_at)
+from listbylist.patterntexts import due_field, due_from, due_number, due_within, pattern_fields, read_pattern_at
 
 
 def can_be_written(thing):

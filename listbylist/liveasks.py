@@ -71,7 +71,6 @@ class LiveAsks:
 
     def harmless(self, listed):
         """True if nothing is lost when the own list at listed is left out."""
-        need(is_below(len(self._book[1]), listed), "listed")
         return loss_of(self._book, without_list(self._book, listed)) is None
 
     def tally(self):

@@ -237,9 +237,28 @@ class Desks(unittest.TestCase):
         self.assertFalse(one == other)
         other.look(("none",))
         self.assertFalse(one == other)
-        for value in ODD + (PAIR, state(other), Desk(4, (1, 2, 3), (0, 1, 2)), Desk(5, (0, 1, 2), (1, 2, 3)), LiveAsks):
+        other.undo()
+        for value in ODD + (PAIR, state(other), Desk(4, (1, 2, 3), (0, 1, 2)), Desk(5, (0, 1, 2), (1, 2, 3)), Desk(4), LiveAsks):
             self.assertFalse(other == value)
             self.assertTrue(other != value)
+        self.assertTrue(Desk(4, (2, 1, 0), (1, 2, 3)) == other)
+
+    def test_equal_logs_of_other_books(self):
+        """The books are the same in the end, as are the logs, but the branches are not."""
+        log = (("exchange", 0, 1, 2), ("turn", 0), ("turn", 0), ("drop", 0))
+        one, other = replayed(3, ((0, 1, 2), (1, 2)), log), replayed(3, ((0, 2), (1, 2)), log)
+        self.assertEqual((one.book_now(), one.log(), one.view_now()), (other.book_now(), other.log(), other.view_now()))
+        self.assertEqual((one.branches_now(), other.branches_now()), (((),), (((1, 2),),)))
+        self.assertFalse(one == other)
+        self.assertTrue(one != other)
+
+    def test_beyond_the_branches(self):
+        """A ninth branch is beyond the limits: it is not refused."""
+        live = Desk(2, (0, 1))
+        for _ in range(8):
+            self.assertIsNone(live.barred(("branch", 0)))
+            live.add_branch(0)
+        self.assertEqual(len(live.branches_now()), 9)
 
     def test_wrong_desks(self):
         for size in ODD + (0, -1):

@@ -177,7 +177,8 @@ class Events(unittest.TestCase):
                     self.assertEqual(refused(log_text, (("day",), value)), ("NotUsable", "log", -1), value)
         self.assertEqual(met, {True, False})
         for value in ODD + (("undo", 0, ()), ("look", ("all", 1)), ("look", ("ropes", ((1, 0, ()),))), ("look", ("ropes", ((0, 2, (2,)),))),
-                            ("look", ("above", ((0, 3, (2, 1)),))), ("look", ("ropes", ((0, 1, ()), (0, 1, ())))), ("turn", True),
+                            ("look", ("ropes", ((1, 3, (1,)),))), ("look", ("above", ((0, 3, (2, 1)),))),
+                            ("look", ("ropes", ((0, 1, ()), (0, 1, ())))), ("turn", True),
                             ("look", ("ropes", ((0, 2, [1]),))), ("look", ("ropes", ((0, 2, (True,)),))), ("look", ("ropes", ((0, True, ()),)))):
             self.assertEqual(refused(event_line, value), ("NotUsable", "event", -1), value)
         for value in (None, [], [("day",)], ("day",), "day", (("day",), None)):
@@ -213,7 +214,8 @@ class Events(unittest.TestCase):
             ("line 0 1 2", 3), ("line 0 0 2", 3), ("line 0 1 0 ", 2 + 2), ("least 0", 2), ("least 0 1 2", 3), ("greatest a 1", 1), ("undo", 1),
             ("undo 0", 2), ("undo 0 al", 2), ("undo 0 all all", 3), ("undo 0 not", 3), ("undo 0 both all", 4), ("undo 0 amid 01", 3),
             ("undo 0 ropes 1 5 5", 5), ("undo 0 ropes 1 5 7 2", 6), ("undo 0 ropes 1 5 7 1 5", 7), ("undo 0 ropes 1 5 7 1 7", 7),
-            ("undo 0 ropes 1 5 8 2 7 6", 8), ("undo 0 ropes 2 0 2 0 0 1 0", 7), ("undo 0 ropes 1 5 7 1", 7), ("turn", 1), ("turn 0 ", 2),
+            ("undo 0 ropes 1 5 8 2 7 6", 8), ("undo 0 ropes 1 5 8 2 6 6", 8), ("undo 0 ropes 1 5 9 3 6 8 7", 9),
+            ("undo 0 ropes 2 0 2 0 0 1 0", 7), ("undo 0 ropes 1 5 7 1", 7), ("turn", 1), ("turn 0 ", 2),
             ("look", 1), ("look ropes 3", 3), ("look ahead 1 ", 3), ("look all\n", 1), ("day\n", 0), ("orders 0", 0),
         ):
             self.assertEqual(event_fault(text), field, text)

@@ -278,6 +278,8 @@ class Lines(unittest.TestCase):
         self.assertEqual(refused(read_pattern, FOUR, "ropes 1 0 3 2 2 1"), ("InvalidText", 0, 6))
         self.assertEqual(refused(read_pattern, FOUR, "ropes 1 0 3 2 2"), ("InvalidText", 0, 6))
         self.assertEqual(read_pattern(FOUR, "ropes 1 0 3 2 1 2"), ("ropes", ((0, 3, (1, 2)),)))
+        self.assertEqual(refused(read_pattern, FOUR, "ropes 1 0 3 2 1 1"), ("InvalidText", 0, 6))
+        self.assertEqual(refused(read_pattern, FIVE, "ropes 1 0 4 3 1 3 2"), ("InvalidText", 0, 7))
         self.assertEqual(refused(read_pattern, (3, ()), "ropes 1 0 1 0"), ("InvalidText", 0, 3))
 
     def test_no_strings(self):
